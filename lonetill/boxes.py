@@ -6,18 +6,14 @@ from lonetill.rows import combined, united
 from lonetill.seeks import are_same
 
 
-def is_count_line(value):
-    """Whether any value is a Line of COUNTS."""
-    if not isinstance(value, Line):
-        return False
-    return value.is_empty or (value.least() is not None and value.least() >= 0)
+def has_just_counts(value):
+    """Whether any value is a Line of COUNTS that is not empty."""
+    return isinstance(value, Line) and value.least() is not None and value.least() >= 0
 
 
 def is_rectangle(value):
     """Whether any value is a tuple of two Lines of COUNTS, neither empty."""
-    if not isinstance(value, tuple) or len(value) != 2:
-        return False
-    return all([is_count_line(line) and not line.is_empty for line in value])
+    return isinstance(value, tuple) and len(value) == 2 and has_just_counts(value[0]) and has_just_counts(value[1])
 
 
 def are_rectangles(value, most):

@@ -11,20 +11,18 @@ class Tills:
     """The places of a house at number 0, and how goings come to them and leave them.
 
     A mask holds places at 0. Behind an "empty" deed with change 1 the number is 1: a going that
-    stays there is not at 0 any more, so these deeds are looked at apart where goings end.
+    comes to 0 once more hops from place to place at 0, any other one never falls below this 1.
     """
 
     def __init__(self, house):
         self.plains = Plains(house)
         self.ground = self.plains.grades[0]
-        # The level 1 is the last one if all further levels are alike.
-        self._ledge = self.plains.grades[min(1, len(self.plains.grades) - 1)]
         self.lasting = deed_relation(house, 0, "empty")
         self.lifting = deed_relation(house, 1, "empty")
-        hops = followed(followed(self.lifting, self.plains.dropping), self.ground)
-        self.turns = closed(joined(joined(self.ground, self.lasting), hops))
+        self._hops = followed(followed(self.lifting, self.plains.dropping), self.ground)
+        self.turns = closed(joined(joined(self.ground, self.lasting), self._hops))
         self._ground_back = led_back(self.ground)
-        self._ledge_back = led_back(self._ledge)
+        self._lifting_back = led_back(self.lifting)
         self._turns_back = led_back(self.turns)
 
     def falls_to(self, place, start):
@@ -36,12 +34,15 @@ class Tills:
         return image(self.turns, self.falls_to(place, start))
 
     def rises_to(self, goal, end):
-        """The places at 0 from which plain goings, or one deed up ahead of such, lead to (goal, end)."""
+        """The places at 0 from which plain goings, or such behind one deed up, lead to the stand (goal, end).
+
+        What is behind a deed up is looked at above 0 alone: what comes to 0 again, turns tell.
+        """
         climbs = self.plains.climbs_to(goal)
         found = image(self._ground_back, orbit_at(climbs, end))
         if end > 0:
-            ledge = image(self._ledge_back, orbit_at(climbs, end - 1))
-            found = found | image(led_back(self.lifting), ledge)
+            lifted = image(self._ground_back, orbit_at(climbs, end - 1))
+            found = found | image(self._lifting_back, lifted)
         return found
 
     def zeros_to(self, goal, end):
@@ -56,10 +57,12 @@ class Tills:
 
     def ends_of_zeros(self, zeros, goal):
         """The Line of all ends at the goal of the mask's places at 0 (with all that they lead to at 0)."""
-        climbs = self.plains.climbs_to(goal)
-        line = line_of_meetings(climbs, image(self.ground, zeros))
-        raised = image(self._ledge, image(self.lifting, zeros))
-        return line | line_of_meetings(climbs, raised).shifted(1)
+        line = line_of_meetings(self.plains.climbs_to(goal), image(self.ground, zeros))
+        return line | self.ends_above(image(self.lifting, zeros), goal)
+
+    def ends_above(self, lifted, goal):
+        """The Line of all ends at the goal of the mask's places at 1 by what never falls below 1."""
+        return line_of_meetings(self.plains.climbs_to(goal), image(self.ground, lifted)).shifted(1)
 
     def starts_of_zeros(self, zeros, place):
         """The Line of all numbers at the place from which plain goings lead to the mask's places at 0."""
@@ -80,13 +83,8 @@ class Tills:
 
     def ends_behind(self, place, goal):
         """The Line of the ends at the goal of the place at 0 where an "empty" deed is done first."""
-        zeros = image(self.turns, self.lasting[place])
-        for middle in range(len(self.lifting)):
-            if (self.lifting[place] >> middle) & 1 == 1:
-                zeros = zeros | self.zeros_from(middle, 1)
-        line = self.ends_of_zeros(zeros, goal)
-        raised = image(self._ledge, self.lifting[place])
-        return line | line_of_meetings(self.plains.climbs_to(goal), raised).shifted(1)
+        zeros = image(self.turns, self.lasting[place] | self._hops[place])
+        return self.ends_of_zeros(zeros, goal) | self.ends_above(self.lifting[place], goal)
 
     def least_need(self, place, goal):
         """The least number at the place from which a plain going leads to the goal; None without one."""
@@ -98,14 +96,11 @@ class Tills:
 
     def zeros_coming_to(self, goal):
         """The places at 0 that lead to the goal with some number."""
-        found = 0
-        for place, mask in enumerate(self.lifting):
-            need = self.least_need(place, goal)
-            lifted = [self.least_need(middle, goal) for middle in range(len(self.lifting))
-                      if (mask >> middle) & 1 == 1]
-            if need == 0 or any([many is not None and many <= 1 for many in lifted]):
-                found = found | (1 << place)
-        return image(self._turns_back, found)
+        near = 0
+        for place in range(len(self.ground)):
+            if self.least_need(place, goal) == 0:
+                near = near | (1 << place)
+        return image(self._turns_back, near | image(self._lifting_back, near))
 
     def come_to(self, place, goal):
         """The Line of the starts at the place from which the goal is come to with some number."""

@@ -49,6 +49,17 @@ class Leads(unittest.TestCase):
                         for end in range(6):
                             self.assertIs(leads(house, place, start, goal, end), (goal, end) in seen)
 
+    def test_what_is_needed_behind_a_deed_up(self):
+        # From 1 one can go down once, not twice; the place 3 is come to behind two deeds down.
+        deeds = [(0, 1, 1, "empty"), (1, -1, 2, "any"), (2, -1, 3, "any"), (3, 1, 4, "any"), (4, 1, 5, "any")]
+        house = House(6, deeds)
+        for goal, known in ((0, True), (1, True), (2, True), (3, False), (4, False), (5, False)):
+            self.assertIs(any(leads(house, 0, 0, goal, end) for end in range(9)), known)
+        near = House(6, deeds[:1] + [(1, 0, 2, "any")] + deeds[2:])
+        for goal, known in ((2, True), (3, True), (4, True), (5, True)):
+            self.assertIs(any(leads(near, 0, 0, goal, end) for end in range(9)), known)
+        self.assertIs(leads(near, 0, 0, 5, 2), True)
+
     def test_far_numbers(self):
         dice = random.Random(2)
         for seed in range(100):

@@ -83,6 +83,15 @@ class Ends(unittest.TestCase):
         self.assertEqual(come_to(house=house, place=1, goal=0), Line.of([1]))
         self.assertTrue(come_to(house, 3, 0).is_empty)
 
+    def test_what_is_needed_behind_a_deed_up(self):
+        deeds = [(0, 1, 1, "empty"), (1, -1, 2, "any"), (2, -1, 3, "any"), (3, 1, 4, "any"), (4, 1, 5, "any")]
+        for house, known in ((House(6, deeds), False), (House(6, deeds[:1] + [(1, 0, 2, "any")] + deeds[2:]), True)):
+            for goal in (3, 4, 5):
+                self.assertIs(come_to(house, 0, goal).has(0), known)
+                self.assertIs(ends(house, 0, 0)[goal].is_empty, not known)
+                self.assertIs(starts(house, goal, goal - 3)[0].has(0), known)
+                self.assertEqual(len(rectangles(house, 0, goal)), 1 if known else 0)
+
     def test_new_dicts(self):
         for act in (lambda: ends(HOUSE, 0, 2), lambda: starts(HOUSE, 0, 2)):
             found = act()
@@ -174,6 +183,7 @@ class Rectangles(unittest.TestCase):
         line = Line.of([0])
         wrong = [[(COUNTS, COUNTS, COUNTS)], [[COUNTS, COUNTS]], [(COUNTS, None)], [(COUNTS, Line())], [(Line(), COUNTS)],
                  [(COUNTS, COUNTS), (line, Line())], [(COUNTS, COUNTS | Line.of([-1]))], [(Line.every(), COUNTS)],
+                 [(COUNTS | Line.of([-1]), COUNTS)], [(COUNTS, COUNTS), (Line.of([-3]), COUNTS)],
                  [(COUNTS, [(0, None, 1, [0])])], (COUNTS, COUNTS), {0: (COUNTS, COUNTS)}, [COUNTS, COUNTS],
                  [(COUNTS, COUNTS), None], [(COUNTS, COUNTS), True]]
         for value in ANY + wrong:

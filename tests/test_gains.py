@@ -104,6 +104,18 @@ class FarGains(unittest.TestCase):
                 for place, goal in ((0, 0), (0, house.places - 1), (house.places - 1, 1 % ups)):
                     self.check_far(house, place, 2 * FAR, goal, 2 * FAR + gain)
 
+    def test_ways_into_a_ring_and_out_of_it(self):
+        for ring in (1, 2, 3, 5, 7):
+            for change in (1, -1):
+                deeds = [(0, change, 1, "any"), (1, change, 2, "any")]
+                deeds += [(2 + k, change, 2 + (k + 1) % ring, "any") for k in range(ring)]
+                house = House(ring + 4, deeds + [(2, change, ring + 2, "any"), (ring + 2, change, ring + 3, "any")])
+                for more in range(ring):
+                    gain = change * (FAR - FAR % ring + 4 + more)
+                    known = least_start(house, 0, ring + 3, gain) is not None
+                    self.assertIs(known, more == 0)
+                    self.check_far(house, 0, 2 * FAR, ring + 3, 2 * FAR + gain)
+
     def test_up_without_down(self):
         house = House(3, [(0, 1, 1, "any"), (1, 1, 2, "any"), (2, 1, 0, "any")])
         self.assertEqual(extras(house, 0, 1), [(0, Line([(1, None, 3, [1])]))])

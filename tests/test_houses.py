@@ -10,8 +10,9 @@ from tests.odd import ANY, NO_COUNTS
 STALL = [(0, 1, 0, "any"), (0, 0, 1, "any"), (1, -1, 1, "any"), (1, 0, 0, "empty")]
 WRONG = [None, 7, "abcd", (), [0, 1, 0, "any"], (0, 1, 0), (0, 1, 0, "any", 0), (2, 1, 0, "any"), (0, 1, 2, "any"),
          (-1, 1, 0, "any"), (0, 1, -1, "any"), (True, 1, 0, "any"), (0, True, 0, "any"), (0, False, 0, "any"),
-         (0, 1, False, "any"), (0, 2, 0, "any"), (0, -2, 0, "any"), (0, -1, 0, "empty"), (0, None, 0, "any"),
-         (0, 1, 0, None), (0, 1, 0, "Any"), (0, 1, 0, ""), (0, 1, 0, b"any"), (0, 1, 0, ["any"]), ("0", 1, 0, "any")]
+         (0, 1, False, "any"), (0, 2, 0, "any"), (0, -2, 0, "any"), (0, -1, 0, "empty"), (0, 2, 0, "empty"),
+         (0, None, 0, "any"), (0, 1, 0, None), (0, 1, 0, "Any"), (0, 1, 0, ""), (0, 1, 0, b"any"),
+         (0, 1, 0, ["any"]), ("0", 1, 0, "any")]
 
 
 def many_deeds(many, places=16):

@@ -133,7 +133,9 @@ class Tables(unittest.TestCase):
         table = gain_table(STALL, 1)
         line = table[1][0][1]
         wrong = ANY + [{0: table[0]}, {**table, 2: []}, {0: [], True: table[1]}, {False: [], 1: table[1]},
-                       {"0": [], 1: table[1]}, {0: None, 1: table[1]}, {0: [], 1: table[1][0]}, {0: [], 1: [[0, line]]},
+                       {"0": [], 1: table[1]},
+                       {1: table[1], 2: []}, {-1: [], 1: table[1]}, {0: [], 1: table[1], 2: table[0]}, {1: table[1]},
+                       {0: None, 1: table[1]}, {0: [], 1: table[1][0]}, {0: [], 1: [[0, line]]},
                        {0: [], 1: [(0, line, 0)]}, {0: [], 1: [(True, line)]}, {0: [], 1: [(False, line)]},
                        {0: [], 1: [(-1, line)]}, {0: [], 1: [(0, line.stretches())]}, {0: [], 1: [(0, line), None]},
                        [table[0], table[1]], list(table.items()), {0: {}, 1: table[1]}, {0: "", 1: table[1]}]
