@@ -181,7 +181,8 @@ class Rectangles(unittest.TestCase):
 
     def test_values_of_any_kind(self):
         line = Line.of([0])
-        wrong = [[(COUNTS, COUNTS, COUNTS)], [[COUNTS, COUNTS]], [(COUNTS, None)], [(COUNTS, Line())], [(Line(), COUNTS)],
+        wrong = [[(COUNTS, COUNTS, COUNTS)], [[COUNTS, COUNTS]], [(COUNTS, None)], [(COUNTS, Line())],
+                 [(Line(), COUNTS)],
                  [(COUNTS, COUNTS), (line, Line())], [(COUNTS, COUNTS | Line.of([-1]))], [(Line.every(), COUNTS)],
                  [(COUNTS | Line.of([-1]), COUNTS)], [(COUNTS, COUNTS), (Line.of([-3]), COUNTS)],
                  [(COUNTS, [(0, None, 1, [0])])], (COUNTS, COUNTS), {0: (COUNTS, COUNTS)}, [COUNTS, COUNTS],

@@ -82,6 +82,17 @@ class ShortLines(unittest.TestCase):
         self.assertEqual((caught.exception.what, caught.exception.limit), ("period", 2520))
         self.assertTrue(line == Line([(0, None, 2520, [0, 2519])]))
 
+    def test_many_stretches(self):
+        lots = [Line.of([9000 * k * k * k + 1000 * part for k in range(40, 240)]) for part in (1, 2, 3)]
+        self.assertEqual((lots[0] | lots[1]).many_all(), 400)
+        self.assertLessEqual(len((lots[0] | lots[1]).stretches()), 400)
+        far = [Line.of([3 * 10 ** 5 * k + 10 ** 5 * part for k in range(200)]) for part in (1, 2, 3)]
+        self.assertEqual(len((far[0] | far[1]).stretches()), 400)
+        with self.assertRaises(TooMany) as caught:
+            far[0] | far[1] | far[2]
+        self.assertEqual((caught.exception.what, caught.exception.limit), ("stretches", 400))
+        self.assertEqual((far[0] | far[1]).parting(far[1]), 10 ** 5)
+
     def test_great_periods_are_still_compared(self):
         one, two = Line([(0, None, 2520, [0])]), Line([(0, None, 2519, [0])])
         self.assertIs(one == two, False)

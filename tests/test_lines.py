@@ -135,6 +135,36 @@ class Operators(unittest.TestCase):
             self.assertEqual(numbers_of(line.sums(other), -100, 100), near(sums, 100))
             self.assertEqual(numbers_of(line.differences(other), -100, 100), near(less, 100))
 
+    def test_sums_of_two_stretches(self):
+        dice = random.Random(12)
+        for _ in range(250):
+            one, two = random_stretch(dice), random_stretch(dice)
+            sums = {x + y for x in told([one], 250) for y in told([two], 250)}
+            less = {x - y for x in told([one], 250) for y in told([two], 250)}
+            self.assertEqual(numbers_of(Line([one]).sums(Line([two])), -100, 100), near(sums, 100), (one, two))
+            self.assertEqual(numbers_of(Line([one]).differences(Line([two])), -100, 100), near(less, 100), (one, two))
+
+    def test_sums_of_long_stretches(self):
+        dice = random.Random(13)
+        for _ in range(60):
+            rows = []
+            for length in (FAR, dice.choice([FAR, 3 * FAR, 10 ** 6, 700, 3])):
+                low = dice.randint(-FAR, FAR)
+                _, _, period, rests = random_stretch(dice)
+                rows.append((low, low + length, period, rests))
+            (low, high, _, _), (first, last, _, _) = rows
+            one, two = Line(rows[:1]), Line(rows[1:])
+            sums = one.sums(two)
+            for number in [low + first + k for k in range(50)] + [low + first + 10 ** 9 + k for k in range(12)]:
+                known = any(one.has(x) and two.has(number - x) for x in range(low, low + 60))
+                known = known or any(two.has(x) and one.has(number - x) for x in range(first, first + 60))
+                self.assertEqual(sums.has(number), known, (rows, number))
+            for number in [high + last - k for k in range(50)]:
+                known = any(one.has(x) and two.has(number - x) for x in range(high - 60, high + 1))
+                self.assertEqual(sums.has(number), known, (rows, number))
+            self.assertEqual(sums, two.sums(one))
+            self.assertEqual(sums.differences(Line.of([5])), sums.shifted(-5))
+
     def test_known_sums(self):
         fours, sixes = Line([(0, None, 4, [0])]), Line([(0, None, 6, [0])])
         self.assertEqual(fours.sums(sixes), Line([(0, None, 2, [0])]) - Line.of([2]))

@@ -156,7 +156,8 @@ class Tables(unittest.TestCase):
     def test_errors(self):
         for value in NO_COUNTS + [2, FAR]:
             for act in (lambda: gain_table(STALL, value), lambda: is_gain_table(STALL, value, None),
-                        lambda: shuts(STALL, value, None, None, None, None), lambda: gain_table(house=STALL, place=value),
+                        lambda: shuts(STALL, value, None, None, None, None),
+                        lambda: gain_table(house=STALL, place=value),
                         lambda: shuts(STALL, 0, 0, value, None, None)):
                 with self.assertRaises(InvalidPlace) as caught:
                     act()
