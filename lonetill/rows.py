@@ -236,7 +236,8 @@ def cut(row):
     many = length_of(low, high)
     if many is None or many > PERIOD * STRETCHES:
         raise TooMany("period", PERIOD)
-    out, whole = [], bits_of(row)
+    out = []
+    whole = bits_of(row)
     for far in range(0, many, PERIOD):
         size = min(PERIOD, many - far)
         out.extend(trimmed(row_of_bits(low + far, size, (whole >> far) & full(size))))
