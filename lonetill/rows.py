@@ -23,6 +23,14 @@ def length_of(low, high):
     return None if low is None or high is None else high - low + 1
 
 
+def common_step(steps):
+    """The least common multiple of the steps; 1 without any."""
+    out = 1
+    for step in steps:
+        out = lcm(out, step)
+    return out
+
+
 def row_of_bits(low, many, bits):
     """The row that has low + k for each set bit k, of so many bits."""
     return (low, low + many - 1, many, turned(bits, many, low))

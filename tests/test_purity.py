@@ -195,7 +195,21 @@ def looked_at(trees):
     return [(function.name, line) for function in reached(table) for line in faults_in(function, classes)]
 
 
+def attributes_in(trees):
+    """The names of all attributes that methods assign to their own objects, or that are assigned elsewhere."""
+    return {node.attr for tree in trees for node in ast.walk(tree)
+            if isinstance(node, ast.Attribute) and isinstance(node.ctx, ast.Store)}
+
+
 class Purity(unittest.TestCase):
+    def test_no_called_name_is_an_attribute(self):
+        trees = [ast.parse(path.read_text()) for path in sorted(FOLDER.glob("*.py"))]
+        table, attributes = functions_of(trees), attributes_in(trees)
+        for function in reached(table):
+            for node in ast.walk(function):
+                if isinstance(node, ast.Call) and isinstance(node.func, ast.Attribute):
+                    self.assertNotIn(node.func.attr, attributes, function.name)
+
     def test_package(self):
         trees = [ast.parse(path.read_text()) for path in sorted(FOLDER.glob("*.py"))]
         self.assertEqual(looked_at(trees), [])
