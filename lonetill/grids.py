@@ -179,6 +179,7 @@ def reach(house, place, goal):
 
 def within(grid, line, other):
     """The Grid of the pairs with n in the line and m in the other one."""
+    check_grid(grid)
     check_line(line)
     check_line(other)
     return grid & Grid([(line, other, None)])
@@ -186,6 +187,7 @@ def within(grid, line, other):
 
 def is_blocks_of(grid, value):
     """Whether any value is a list of at most 200 blocks that tells the grid."""
+    check_grid(grid)
     if not is_list(value) or len(value) > MOST_PASSED or not all([is_block(block) for block in value]):
         return False
     return grid == Grid(value)
