@@ -3,7 +3,7 @@
 from math import lcm
 
 from lonetill.errors import TooMany
-from lonetill.masks import last_in, next_in, ones, turned, window
+from lonetill.masks import last_in, mask_of, next_in, ones, turned, window
 from lonetill.rows import bits_of, combined, length_of, part_of, shifted_rows, trimmed
 from lonetill.totals import mirrored_rows, sums_of_rows
 from lonetill.triples import INTEGERS, each_once, is_all, merged, with_pairs
@@ -70,7 +70,9 @@ def apart(one, other):
 def first_side(first, middle, size, told):
     """The n beside which some k of the middle row stands, by a rest of the first differences."""
     rest, least, greatest = told
-    rests = turned(window(middle[2], middle[3], 0, size), size, 0 - rest)
+    # A short stretch need not have a number of each rest that its period lets.
+    known = mask_of([other for other, _, _ in rests_in(middle, size)])
+    rests = turned(known, size, 0 - rest)
     row = trimmed((apart(middle[0], greatest), apart(middle[1], least), size, rests))
     return combined("and", first, row)
 

@@ -54,6 +54,23 @@ class Composed(unittest.TestCase):
             one, two = [random_blocks(dice, 1, 9, 2, (1, 2, 3)) for _ in range(2)]
             self.check(one, two, 9, dice, 60)
 
+    def test_short_stretches(self):
+        def short(dice):
+            if dice.random() < 0.4:
+                return random_blocks(dice, 1, 9, 1, (2, 3, 6))[0][0]
+            low, period = dice.randint(-4, 12), dice.choice((2, 3, 6))
+            return Line([(low, low + dice.randint(0, 7), period, sorted(dice.sample(range(period), dice.randint(1, 2))))])
+        for seed in range(250):
+            dice = random.Random(seed)
+            one, two = [[tuple(short(dice) for _ in range(3))] for _ in range(2)]
+            grid = composed(Grid(one), Grid(two))
+            for start in range(14):
+                for end in range(0, 14):
+                    if grid.has(start, end):
+                        self.assertNotEqual(walked_middles(one, two, start, end, 60), [])
+                    else:
+                        self.assertEqual(walked_middles(one, two, start, end, 30), [])
+
     def test_cases_that_never_have_too_many(self):
         for seed in range(40):
             dice = random.Random(seed)
