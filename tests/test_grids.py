@@ -214,6 +214,31 @@ class Grids(unittest.TestCase):
         self.assertIs(is_blocks_of(grid, many[::-1]), True)
         self.assertIs(is_blocks_of(grid, many[1:]), False)
 
+    def test_many_blocks(self):
+        def points(low):
+            return Grid([(Line.of([start]), Line.of([start * start]), None) for start in range(low, low + 200)])
+        grids = [points(200 * k) for k in range(20)]
+        whole = grids[0]
+        for grid in grids[1:]:
+            whole = whole | grid
+        self.assertIs(all(whole.has(start, start * start) for start in range(0, 4000, 37)), True)
+        self.assertEqual(len(whole.blocks()), 4000)
+        with self.assertRaises(TooMany) as caught:
+            whole | Grid([(Line.of([4000]), Line.of([7]), None)])
+        self.assertEqual((caught.exception.what, caught.exception.limit), ("blocks", 4000))
+        self.assertEqual((whole | grids[3]).at(601), Line.of([601 * 601]))
+
+    def test_grids_of_many_parts(self):
+        dice = random.Random(5)
+        blocks = [(Line.of([dice.randint(0, 60)]), Line.of([dice.randint(0, 60)]), None) for _ in range(150)]
+        more = [(Line([(k, None, 1, [0])]), Line([(0, 90 - k, 1, [0])]), Line([(None, 2 * k, 1, [0])])) for k in range(40)]
+        one, two = Grid(blocks), Grid(more)
+        ours, others = [{(n, m) for n in range(70) for m in range(70) if is_in(told, n, m)} for told in (blocks, more)]
+        for made, pairs in ((one & two, ours & others), (one - two, ours - others), (two - one, others - ours), (one | two, ours | others)):
+            self.assertEqual(pairs_of(made, 69), pairs)
+        self.assertEqual(two.other().other(), two)
+        self.assertEqual(one.parting(two), min(ours ^ others))
+
     def test_errors_of_a_grid(self):
         block = (SMALL, None, FALL)
         for value in [odd for odd in ANY if not isinstance(odd, (list, tuple))] + [{0: block}]:

@@ -145,6 +145,19 @@ class Meanings(unittest.TestCase):
         self.assertEqual(meaning(HOUSE, ("and", ("in", "n", Line.of([7])), inner)),
                          Grid([(Line.of([7]), Line([(0, 3, 1, [0])]), None)]))
 
+    def test_closed_parts(self):
+        true, false = ("some", "n", TEN), ("all", "n", TEN)
+        for one, left in ((true, True), (false, False)):
+            for two, right in ((true, True), (false, False)):
+                self.assertIs(meaning(HOUSE, ("and", one, two)), left and right)
+                self.assertIs(meaning(HOUSE, ("or", one, two)), left or right)
+                self.assertIs(meaning(HOUSE, ("not", ("and", one, two))), not (left and right))
+                self.assertIs(meaning(HOUSE, ("not", ("or", one, two))), not (left or right))
+                self.assertIs(follows(HOUSE, one, two), right or not left)
+                self.assertIs(are_alike(HOUSE, one, two), left == right)
+            self.assertEqual(meaning(HOUSE, ("and", one, ("not", TEN))), COUNTS - TEN[2] if left else Line())
+            self.assertEqual(meaning(HOUSE, ("or", TEN, one)), COUNTS if left else TEN[2])
+
     def test_the_overview(self):
         leaf = ("leads", 0, "n", 0, "m")
         above = ("all", "n", ("some", "m", ("and", leaf, ("not", ("below", "m", "n", 0)))))
