@@ -87,6 +87,16 @@ class Prices(unittest.TestCase):
                     self.assertIs(grid.has(start, end), price is not None and price <= many)
             self.assertIs(within(house, prices, place, goal, max(0, many - 1)).is_within(grid), True)
 
+    def test_within_through_the_empty_till(self):
+        house = House(2, [(0, -1, 0, "any"), (0, 0, 1, "empty"), (1, 1, 1, "any"), (1, 1, 0, "empty")])
+        for prices, many in (([1, 2, 1, 0], 5), ([1, 0, 2, 3], 5), ([0, 0, 1, 0], 3), ([2, 0, 0, 0], 4), ([3, 40, 0, 0], 40)):
+            for place, goal in ((0, 1), (1, 1), (1, 0), (0, 0)):
+                grid = within(house, prices, place, goal, many)
+                for start in range(9):
+                    told = walked_prices(house, prices, (place, start), 30)
+                    self.assertEqual([grid.has(start, end) for end in range(9)],
+                                     [told.get((goal, end), many + 1) <= many for end in range(9)])
+
     def test_within_nothing(self):
         self.assertEqual(within(HOUSE, PRICES, 1, 0, 40), Grid.none())
         self.assertEqual(within(House(1, []), [], 0, 0, 0).at(FAR).least(), FAR)

@@ -91,6 +91,19 @@ class Prices(unittest.TestCase):
         for number in (0, 3, FAR):
             self.assertEqual(price_of(house, [1] * 5, cheapest_going(house, [1] * 5, 1, number, 1, number)), 0)
 
+    def test_ways_at_zero(self):
+        # Between places at 0: an "empty" deed, a plain going up and down again, and one up with a fall behind it.
+        deeds = [(0, 0, 1, "empty"), (1, 1, 2, "any"), (2, -1, 3, "any"), (3, 1, 4, "empty"), (4, -1, 5, "any"), (5, 0, 0, "empty"),
+                 (0, -1, 0, "any"), (5, 1, 5, "any"), (1, 0, 0, "empty"), (3, 1, 3, "empty"), (3, -1, 5, "any")]
+        house = House(6, deeds)
+        for prices in ([3, 1, 4, 1, 5, 9, 2, 6, 5, 3, 5], [0] * 11, [1] * 11, [0, 0, 1, 7, 0, 0, 2, 3, 0, 4, 4], [5, 0, 0, 0, 9, 0, 0, 0, 0, 4, 4]):
+            for place, start in ((0, 4), (0, 0), (3, 0), (5, 0)):
+                told = walked_prices(house, prices, (place, start), 60)
+                for goal in range(6):
+                    for end in (0, 1, 3):
+                        self.check(house, prices, place, start, goal, end, told.get((goal, end)))
+                self.check(house, prices, place, start, 5, FAR, least_price(house, prices, place, start, 5, FAR))
+
     def test_long_laps(self):
         deeds = [(k, 1, (k + 1) % 6, "any") for k in range(6)] + [(k, -1, (k + 1) % 5, "any") for k in range(5)]
         house, prices = House(6, deeds), [5, 1, 7, 0, 2, 9, 3, 1, 1, 8, 2]
