@@ -6,6 +6,8 @@ import pathlib
 import re
 import unittest
 
+from tests.test_purity import looked_at
+
 FOLDER = pathlib.Path(__file__).resolve().parent.parent / "lonetill"
 FILES = sorted(FOLDER.glob("*.py"))
 LET = set("""len range enumerate zip min max sum abs sorted reversed int str bool bytes list tuple dict set frozenset
@@ -168,6 +170,20 @@ class Language(unittest.TestCase):
                 self.assertFalse(isinstance(node, ast.Constant) and isinstance(node.value, float), name)
                 if isinstance(node, ast.Compare) and any(isinstance(op, (ast.Is, ast.IsNot)) for op in node.ops):
                     self.assertIn(node.comparators[0].value, (None, True, False), name)
+
+    def test_what_operators_change(self):
+        # L5 and L28: operators, properties, __eq__, __len__ and __repr__; tests.test_purity tells how it looks.
+        self.assertEqual(looked_at([tree for _, _, tree in parsed()]), [])
+
+    def test_heaps(self):
+        for name, _, tree in parsed():
+            for node in ast.walk(tree):
+                if isinstance(node, ast.Call) and isinstance(node.func, ast.Name) and node.func.id.startswith("heap"):
+                    self.assertEqual(node.keywords, [], name)
+                    self.assertIsInstance(node.args[0], (ast.Name, ast.Attribute, ast.Subscript), name)
+                if isinstance(node, ast.ClassDef):
+                    orders = {"__lt__", "__le__", "__gt__", "__ge__"}
+                    self.assertFalse(orders & {part.name for part in node.body if isinstance(part, ast.FunctionDef)}, name)
 
     def test_sets_and_lazy_calls(self):
         for name, _, tree in parsed():
