@@ -51,8 +51,13 @@ def many_new(left, box):
 
 def best_box(matrix, left, seed):
     """Of the boxes that grow from the seed the one that covers most of what is left."""
-    boxes = [grown(matrix, seed, order) for order in ORDERS]
-    return max(boxes, key=lambda box: many_new(left, box))
+    best, most = None, 0
+    for order in ORDERS:
+        box = grown(matrix, seed, order)
+        many = many_new(left, box)
+        if many > most:
+            best, most = box, many
+    return best
 
 
 def less_box(left, box):

@@ -1,7 +1,10 @@
 """What is asked of tidy rows: members, next ones, counts, and where two lots differ."""
 
 from lonetill.masks import last_in, many_ones, next_in, window
-from lonetill.rows import combined, first_unlike, last_unlike, spans
+from lonetill.rows import combined, first_unlike, last_unlike, marks_of, rests_from, spans
+
+# So many numbers at the end of a span are looked at before all of them are.
+LOOKED_AT = 2520
 
 
 def row_at(rows, number):
@@ -103,11 +106,40 @@ def lies_within(one, two):
     return len(combined("less", one, two)) == 0
 
 
+def is_bare_about(low, high, kind, kinds):
+    """Whether some number at the end of a span has one of the rests of the kind, and none of the other kinds."""
+    many = LOOKED_AT if low is None or high is None else min(LOOKED_AT, high - low + 1)
+    first = low
+    if low is None:
+        first = 0 if high is None else high - many + 1
+    left = window(kind[0], kind[1], first, many)
+    for step, bits in kinds:
+        left = left ^ (left & window(step, bits, first, many))
+    return left != 0
+
+
+def is_bare_near(rows, lots):
+    """Whether a look at the ends of all spans finds a number of the rows that is in none of the lots."""
+    marks = marks_of(rows)
+    for lot in lots:
+        marks = marks + marks_of(lot)
+    marks = sorted(set(marks))
+    lows, highs = [None] + marks, [mark - 1 for mark in marks] + [None]
+    told = rests_from(rows, lows)
+    kinds = [rests_from(lot, lows) for lot in lots]
+    return any([is_bare_about(lows[k], highs[k], told[k], [kind[k] for kind in kinds]) for k in range(len(lows))])
+
+
 def is_covered(rows, lots):
-    """Whether each number of the rows is in one of the lots of rows at least."""
+    """Whether each number of the rows is in one of the lots of rows at least.
+
+    Most answers need no common period of all lots, which may be too great: these are looked for first.
+    """
+    if len(rows) == 0 or any([lies_within(rows, lot) for lot in lots]):
+        return True
+    if is_bare_near(rows, lots):
+        return False
     left = rows
     for lot in lots:
-        if len(left) == 0:
-            return True
         left = combined("less", left, lot)
     return len(left) == 0

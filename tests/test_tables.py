@@ -57,6 +57,19 @@ class Tables(unittest.TestCase):
                         self.assertIs(shuts(house, place, start, goal, end, table),
                                       not leads_plain(house, place, start, goal, end))
 
+    def test_lines_of_many_periods(self):
+        # No common period of these could be told: 59 * 58 * 57 * 55 * 53 * 51.
+        house = House(1, [(0, 0, 0, "any")])
+        ones = [(0, Line([(None, None, period, [0])])) for period in (59, 58, 57, 55, 53, 51)]
+        self.assertIs(is_gain_table(house, 0, {0: ones}), True)
+        self.assertIs(is_gain_table(house, 0, {0: ones + [(1, Line([(None, None, 49, [3])]))]}), True)
+        house = House(2, [(0, 0, 1, "any")])
+        self.assertIs(is_gain_table(house, 0, {0: ones, 1: [(0, EVERY)]}), True)
+        self.assertIs(is_gain_table(house, 0, {0: ones, 1: ones[::-1]}), True)
+        self.assertIs(is_gain_table(house, 0, {0: ones, 1: ones[1:]}), False)
+        self.assertIs(is_gain_table(house, 0, {0: [(0, EVERY)], 1: ones}), False)
+        self.assertIs(is_gain_table(house, 0, {0: [(0, EVERY - Line.of([FAR]))], 1: ones}), False)
+
     def test_changed_tables_against_steps(self):
         right, wrong = 0, 0
         for seed in range(250):
