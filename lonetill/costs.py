@@ -1,6 +1,6 @@
 """Least prices of what goings of a house with prices are made of, as points 63 and 65 tell it."""
 
-from lonetill.minplus import any_steps, behind_one, column_ahead, columns_of, least_of_both, lesser, no_ways
+from lonetill.minplus import any_steps, behind_one, column_ahead, column_far_ahead, least_of_both, lesser, no_ways
 from lonetill.minplus import only_at, row_behind, row_far_behind
 
 
@@ -22,7 +22,7 @@ def above_all(ups, flats, downs):
     """The least prices of plain goings that come back to their number and never fall below it."""
     out = any_steps(flats)
     while True:
-        more = any_steps(least_of_both(flats, round_over(ups, out, downs)))
+        more = any_steps(least_of_both(out, round_over(ups, out, downs)))
         if more == out:
             return out
         out = more
@@ -39,11 +39,10 @@ class Costs:
         ups, flats, downs = [deed_prices(house, prices, change, "any") for change in (1, 0, -1)]
         lifts = deed_prices(house, prices, 1, "empty")
         ground = above_all(ups, flats, downs)
-        over = least_of_both(flats, round_over(ups, ground, downs))
         self.many = house.places
         self.levels = [ground]
         while len(self.levels) < 2 or self.levels[-1] != self.levels[-2]:
-            self.levels.append(any_steps(least_of_both(over, round_over(downs, self.levels[-1], ups))))
+            self.levels.append(any_steps(least_of_both(ground, round_over(downs, self.levels[-1], ups))))
         self.levels.pop()
         self.climbing = behind_one(ups, ground)
         self.dropping = behind_one(ground, downs)
@@ -61,7 +60,7 @@ class Costs:
 
     def plain_row(self, place, start, end):
         """The least prices of plain goings from the stand (place, start) to each place with the end."""
-        first = only_at(self.many, place)
+        first = only_at(place)
         if end >= start:
             return row_far_behind(row_behind(first, self.level(start)), self.climbing, end - start)
         return row_behind(row_far_behind(first, self.dropping, start - end), self.level(end))
@@ -77,20 +76,11 @@ class Costs:
     def least_price(self, place, start, goal, end):
         """The least price of all goings from the stand (place, start) to the stand (goal, end), or None."""
         through = self.rise_row(self.fall_row(place, start), end)
-        return lesser(self.plain_row(place, start, end)[goal], through[goal])
+        return lesser(self.plain_row(place, start, end).get(goal), through.get(goal))
 
     def bare_rise_column(self, goal, end):
         """The least prices from each place with 0 to the stand (goal, end), above 0 behind the first deed."""
-        column = only_at(self.many, goal)
+        column = only_at(goal)
         if end == 0:
             return column
         return column_ahead(self.lifting, column_far_ahead(self.climbing, column, end - 1))
-
-    def rise_column(self, goal, end):
-        """The least prices from each place with 0 to the stand (goal, end)."""
-        return column_ahead(self.turning, self.bare_rise_column(goal, end))
-
-
-def column_far_ahead(matrix, column, steps):
-    """The least sums of so many steps and a column of worths behind them."""
-    return row_far_behind(column, columns_of(matrix), steps)

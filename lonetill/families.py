@@ -57,9 +57,8 @@ class Least:
     def line(self):
         """The Line of all numbers at which it tells a worth."""
         # Families of one step come together first, so that common periods stay small.
-        told = sorted([(step, first, many) for first, step, _, _, many in self._families],
-                      key=lambda family: (family[0], family[1]))
-        return line_of_rows(united([[row_of((first, step, 0, 0, many))] for step, first, many in told]))
+        told = sorted([(family[1], family[0], position) for position, family in enumerate(self._families)])
+        return line_of_rows(united([[row_of(self._families[position])] for _, _, position in told]))
 
     def is_at_most(self, other):
         """Whether it tells, wherever the other one does, a worth that is not greater."""

@@ -1,86 +1,101 @@
-"""What walks cost, for all lengths at once: a short walk, and a lap at one of its places as often as is wished."""
+"""What walks along a matrix of prices cost, for all lengths at once, told by families."""
 
-from lonetill.minplus import behind_one, column_ahead, least_sum, row_behind
-from lonetill.series import needed, singles_beside
+from math import gcd
 
+from lonetill.minplus import behind_one
+from lonetill.series import is_told_by
 
-def rows_behind(row, matrix, many):
-    """The row of worths behind 0, 1, .. up to so many steps of the matrix."""
-    out = [row]
-    for _ in range(many):
-        out.append(row_behind(out[-1], matrix))
-    return out
+NO_LAP = (0, 0)
 
 
-def columns_ahead(matrix, column, many):
-    """The column of worths ahead of which stand 0, 1, .. up to so many steps of the matrix."""
-    out = [column]
-    for _ in range(many):
-        out.append(column_ahead(matrix, out[-1]))
-    return out
+def is_better(lap, other):
+    """Whether a lap, a tuple (steps, price), costs less for each step than the other one, or that one is none."""
+    return other[0] == 0 or lap[1] * other[0] < other[1] * lap[0]
 
 
-def lap_prices(matrix):
-    """For each number of steps from 1 to that of the places, at its position less 1, what a lap at each place costs."""
-    out = []
+def best_laps(matrix):
+    """For each place the lap of the least price for each step; NO_LAP without one."""
+    out = [NO_LAP] * len(matrix)
     power = matrix
-    for _ in range(len(matrix)):
-        out.append([power[place][place] for place in range(len(matrix))])
-        power = behind_one(power, matrix)
-    return out
-
-
-def longest_walk(places):
-    """So many steps at most has a walk that is told with a lap."""
-    return 2 * places * places + places
-
-
-def prices_by_way(ahead, behind, place):
-    """For each number of steps what the cheapest walk of so many costs that comes by the place; None without one."""
-    left, right = [row[place] for row in ahead], [column[place] for column in behind]
-    return [least_sum(left[:steps + 1], right[steps::-1]) for steps in range(len(left))]
-
-
-def families_of_lap(prices, size, lap):
-    """The families of walks of these prices, by their steps, with laps of this size and price; none needless."""
-    out = []
-    least = [None] * size
-    for steps, price in enumerate(prices):
-        known = least[steps % size]
-        known = None if known is None else known + lap
-        if price is not None and (known is None or price < known):
-            out.append((steps, size, price, lap, None))
-            known = price
-        least[steps % size] = known
+    for steps in range(1, len(matrix) + 1):
+        for place, row in enumerate(power):
+            if place in row and is_better((steps, row[place]), out[place]):
+                out[place] = (steps, row[place])
+        if steps < len(matrix):
+            power = behind_one(power, matrix)
     return out
 
 
 class Walks:
-    """The walks along a matrix of prices that begin with a row of worths and end with a column of worths."""
+    """Walks along a matrix of prices, from places and numbers on; each step makes the number one more.
 
-    def __init__(self, matrix, row, column):
-        most = longest_walk(len(matrix))
-        self.matrix = matrix
-        self.ahead = rows_behind(row, matrix, most)
-        self.behind = columns_ahead(matrix, column, most)
-        self.laps = lap_prices(matrix)
+    A walk that comes by a place with a lap is told with this lap as often as is wished, by the best
+    one that it comes by (point 64). One of which another one tells all, at no greater price, is
+    not followed any more; neither is one that costs more than most, where it is an INTEGER.
+    """
 
-    def lap_families(self):
-        """The families of the walks with laps, for each place and each size of a lap."""
-        out = []
-        for place in range(len(self.matrix)):
-            prices = prices_by_way(self.ahead, self.behind, place)
-            for size in range(1, len(self.matrix) + 1):
-                lap = self.laps[size - 1][place]
-                if lap is not None:
-                    out.extend(families_of_lap(prices, size, lap))
-        return needed(out)
+    def __init__(self, matrix, most):
+        self._matrix = matrix
+        self._laps = best_laps(matrix)
+        self._most = most
+        self._due = {}
+        self._last = {}
+        self._told = [[] for _ in matrix]
 
-    def short_prices(self):
-        """The least price of the walks of 0, 1, .. steps, as far as a walk with a lap may go."""
-        return [least_sum(row, self.behind[0]) for row in self.ahead]
+    def set_out(self, number, row):
+        """Lets walks set out at this number, at the prices of the row."""
+        for place, price in row.items():
+            self._arrive(number, place, NO_LAP, price)
 
-    def families(self):
-        """Families that tell the least price of the walks for each number of steps from 0 on."""
-        endless = self.lap_families()
-        return endless + singles_beside(endless, self.short_prices())
+    def _arrive(self, number, place, lap, price):
+        """Notes a walk that comes to the place, by whose lap it may go on."""
+        own = self._laps[place]
+        if own[0] == 0 or not is_better(own, lap):
+            self._note(number, place, lap, price)
+            return
+        # So many laps of the kind that it came with can't be changed for better ones.
+        for times in range(1 if lap[0] == 0 else own[0] // gcd(own[0], lap[0])):
+            self._note(number + times * lap[0], place, own, price + times * lap[1])
+
+    def _note(self, number, place, lap, price):
+        """Notes what is due at this number."""
+        if self._most is not None and price > self._most:
+            return
+        if number not in self._due:
+            self._due[number] = {}
+        row, key = self._due[number], (place, lap)
+        if key not in row or price < row[key]:
+            row[key] = price
+
+    def _is_new(self, number, place, lap, price):
+        """Whether nothing that is told at the place tells all of this at no greater price."""
+        if lap[0] > 0:
+            key = (place, lap, number % lap[0])
+            if key in self._last:
+                first, worth = self._last[key]
+                if worth + (number - first) // lap[0] * lap[1] <= price:
+                    return False
+        for family in self._told[place]:
+            if is_told_by(family, number, lap, price):
+                return False
+        return True
+
+    def _tell(self, number, place, lap, price):
+        """Tells the walk, and goes on with it by one step."""
+        if lap[0] == 0:
+            self._told[place].append((number, 1, price, 0, 1))
+        else:
+            self._last[(place, lap, number % lap[0])] = (number, price)
+            self._told[place].append((number, lap[0], price, lap[1], None))
+        for goal, more in self._matrix[place].items():
+            self._arrive(number + 1, goal, lap, price + more)
+
+    def told(self):
+        """For each place the families of all walks to it, by their numbers."""
+        while len(self._due) > 0:
+            number = min(self._due)
+            due = self._due.pop(number)
+            for (place, lap), price in due.items():
+                if self._is_new(number, place, lap, price):
+                    self._tell(number, place, lap, price)
+        return self._told

@@ -1,4 +1,7 @@
-"""Least sums along ways: matrices of COUNTS, None where there is no way."""
+"""Least sums along ways: rows are dicts from places to COUNTS, matrices lists of rows.
+
+What a row does not have is no way.
+"""
 
 
 def lesser(one, other):
@@ -8,60 +11,77 @@ def lesser(one, other):
     return min(one, other)
 
 
-def least_sum(row, column):
-    """The least sum of two worths at the same position; None without one."""
-    return min([one + other for one, other in zip(row, column) if one is not None and other is not None], default=None)
+def raised_row(row, price):
+    """The row with all worths more by a price."""
+    return {place: worth + price for place, worth in row.items()}
+
+
+def row_of_both(row, other):
+    """The row of the lesser worths of both."""
+    out = dict(row)
+    for place, worth in other.items():
+        if place not in out or worth < out[place]:
+            out[place] = worth
+    return out
 
 
 def least_of_both(one, two):
     """The matrix of the lesser worths of both."""
-    return [[lesser(left, right) for left, right in zip(row, other)] for row, other in zip(one, two)]
+    return [row_of_both(row, other) for row, other in zip(one, two)]
 
 
-def columns_of(matrix):
+def turned_over(matrix):
     """The matrix with rows and columns exchanged."""
-    return [[row[k] for row in matrix] for k in range(len(matrix))]
+    out = [{} for _ in matrix]
+    for place, row in enumerate(matrix):
+        for goal, price in row.items():
+            out[goal][place] = price
+    return out
 
 
 def row_behind(row, matrix):
     """The least sums of a row of worths and a step of the matrix behind it."""
-    return [least_sum(row, column) for column in columns_of(matrix)]
+    out = {}
+    for place, worth in row.items():
+        for goal, price in matrix[place].items():
+            known = out.get(goal)
+            if known is None or worth + price < known:
+                out[goal] = worth + price
+    return out
 
 
 def column_ahead(matrix, column):
     """The least sums of a step of the matrix and a column of worths behind it."""
-    return [least_sum(row, column) for row in matrix]
+    return row_behind(column, turned_over(matrix))
 
 
 def behind_one(one, two):
     """The least sums of a step of the one matrix and a step of the other behind it."""
-    columns = columns_of(two)
-    return [[least_sum(row, column) for column in columns] for row in one]
-
-
-def nothing_done(many):
-    """The matrix of no step at all."""
-    return [[0 if k == at else None for k in range(many)] for at in range(many)]
+    return [row_behind(row, two) for row in one]
 
 
 def no_ways(many):
     """The matrix without ways."""
-    return [[None] * many for _ in range(many)]
+    return [{} for _ in range(many)]
+
+
+def by_middle(row, middle, steps):
+    """The row of worths with what the steps from the middle let, too."""
+    return row_of_both(row, raised_row(steps, row[middle])) if middle in row else row
 
 
 def any_steps(matrix):
     """The least sums of any number of steps, perhaps none."""
-    out = least_of_both(matrix, nothing_done(len(matrix)))
-    while True:
-        more = behind_one(out, out)
-        if more == out:
-            return out
-        out = more
+    out = [row_of_both(row, {place: 0}) for place, row in enumerate(matrix)]
+    for middle in range(len(out)):
+        steps = out[middle]
+        out = [by_middle(row, middle, steps) for row in out]
+    return out
 
 
 def row_far_behind(row, matrix, steps):
     """The least sums of a row of worths and so many steps behind it."""
-    while steps > 0:
+    while steps > 0 and len(row) > 0:
         if steps % 2 == 1:
             row = row_behind(row, matrix)
         steps = steps // 2
@@ -70,6 +90,11 @@ def row_far_behind(row, matrix, steps):
     return row
 
 
-def only_at(many, place):
+def column_far_ahead(matrix, column, steps):
+    """The least sums of so many steps and a column of worths behind them."""
+    return row_far_behind(column, turned_over(matrix), steps)
+
+
+def only_at(place):
     """The row, or column, that begins at a place: 0 there, no way elsewhere."""
-    return [0 if k == place else None for k in range(many)]
+    return {place: 0}

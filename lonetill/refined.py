@@ -15,4 +15,5 @@ def atoms(lines):
         raise InvalidLots(lines)
     axis = axis_of([counts_within(line) for line in lines], 0)
     found = [rows_among(axis, {label: True}) for label in labels_of(axis)]
-    return [line_of_rows(rows) for rows in sorted(found, key=lambda rows: rows[0][0])]
+    by_least = {rows[0][0]: rows for rows in found}
+    return [line_of_rows(by_least[least]) for least in sorted(by_least)]

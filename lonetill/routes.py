@@ -1,26 +1,14 @@
 """Cheapest goings from stand to stand, told in laps."""
 
-from heapq import heappop, heappush
-
-from lonetill.cheap_ways import cheapest_walk, deeds_back, priced_ways, settled
-from lonetill.costs import Costs, column_far_ahead
-from lonetill.minplus import column_ahead, only_at, row_far_behind
+from lonetill.cheap_ways import cheapest_walk, deeds_back, priced_ways, put_at, settled
+from lonetill.costs import Costs
+from lonetill.minplus import column_ahead, column_far_ahead, only_at, row_far_behind, turned_over
 from lonetill.plots import as_items
 
 
-def least_at(worths):
-    """The position of the least of the worths (there is one)."""
-    return min([(worth, position) for position, worth in enumerate(worths) if worth is not None])[1]
-
-
-def added(one, other):
-    """The sum of two worths; None if one of them is none."""
-    return None if one is None or other is None else one + other
-
-
-def sums_of_both(row, column):
-    """The sums of the worths at the same positions."""
-    return [added(one, other) for one, other in zip(row, column)]
+def place_of_least(row, column):
+    """The place at which the sum of a row's and a column's worth is the least (there is one)."""
+    return min([(worth + column[place], place) for place, worth in row.items() if place in column])[1]
 
 
 class Routes:
@@ -44,12 +32,12 @@ class Routes:
     def _first_deed(self, place, change, kinds, worths):
         """The position of the deed of this place whose price, and the worth at its goal, come to least."""
         found = [(self._prices[position] + worths[deed[2]], position) for position, deed in enumerate(self._deeds)
-                 if deed[0] == place and deed[1] == change and deed[3] in kinds and worths[deed[2]] is not None]
+                 if deed[0] == place and deed[1] == change and deed[3] in kinds and deed[2] in worths]
         return min(found)[1]
 
     def _up(self, place, goal, kinds):
         """The deeds of a cheapest deed up of one of the kinds, and what never falls below it."""
-        position = self._first_deed(place, 1, kinds, [row[goal] for row in self._costs.level(0)])
+        position = self._first_deed(place, 1, kinds, turned_over(self._costs.level(0))[goal])
         return [position] + self._back(self._deeds[position][2], goal, 0)
 
     def _climb(self, place, goal):
@@ -60,7 +48,7 @@ class Routes:
         """The deeds of a cheapest drop."""
         ground = self._costs.level(0)[place]
         found = [(ground[deed[0]] + self._prices[position], position) for position, deed in enumerate(self._deeds)
-                 if deed[2] == goal and deed[1] == -1 and ground[deed[0]] is not None]
+                 if deed[2] == goal and deed[1] == -1 and deed[0] in ground]
         position = min(found)[1]
         return self._back(place, self._deeds[position][0], 0) + [position]
 
@@ -82,40 +70,40 @@ class Routes:
     def _plain(self, place, start, goal, end):
         """The items of a cheapest plain going (there is one)."""
         if end >= start:
-            behind = column_far_ahead(self._costs.climbing, only_at(self._many, goal), end - start)
-            middle = least_at(sums_of_both(self._costs.level(start)[place], behind))
+            behind = column_far_ahead(self._costs.climbing, only_at(goal), end - start)
+            middle = place_of_least(self._costs.level(start)[place], behind)
             return as_items(self._back(place, middle, start)) + self._walk(middle, goal, end - start, True)
-        ahead = row_far_behind(only_at(self._many, place), self._costs.dropping, start - end)
-        middle = least_at(sums_of_both(ahead, [row[goal] for row in self._costs.level(end)]))
+        ahead = row_far_behind(only_at(place), self._costs.dropping, start - end)
+        middle = place_of_least(ahead, turned_over(self._costs.level(end))[goal])
         return self._walk(place, middle, start - end, False) + as_items(self._back(middle, goal, end))
 
     def _step_at_zero(self, place, goal):
         """The tuple (price, deeds) of a cheapest single step at 0 from the place to the goal; None without one."""
         found = []
-        if self._costs.level(0)[place][goal] is not None:
+        if goal in self._costs.level(0)[place]:
             found.append((self._costs.level(0)[place][goal], self._back(place, goal, 0)))
         for position, (begin, change, behind, when) in enumerate(self._deeds):
             if begin == place and when == "empty" and change == 0 and behind == goal:
                 found.append((self._prices[position], [position]))
-            if begin == place and when == "empty" and change == 1:
+            if begin == place and when == "empty" and change == 1 and goal in self._costs.dropping[behind]:
                 down = self._costs.dropping[behind][goal]
-                if down is not None:
-                    found.append((self._prices[position] + down, [position] + self._drop(behind, goal)))
+                found.append((self._prices[position] + down, [position] + self._drop(behind, goal)))
         return min(found) if len(found) > 0 else None
 
     def _way_at_zero(self, place, goal):
         """The places of a cheapest way by steps at 0 from the place to the goal (there is one)."""
-        queue = [(0, [place])]
+        queue = {0: [[place]]}
         seen = {}
-        while queue[0][1][-1] != goal:
-            price, way = heappop(queue)
-            if way[-1] not in seen:
-                seen[way[-1]] = True
-                for middle in range(self._many):
-                    step = self._step_at_zero(way[-1], middle)
-                    if step is not None:
-                        heappush(queue, (price + step[0], way + [middle]))
-        return queue[0][1]
+        while goal not in seen:
+            price = min(queue)
+            for way in queue.pop(price):
+                if way[-1] not in seen:
+                    seen[way[-1]] = way
+                    for middle in range(self._many):
+                        step = self._step_at_zero(way[-1], middle)
+                        if step is not None:
+                            put_at(queue, price + step[0], way + [middle])
+        return seen[goal]
 
     def _at_zero(self, place, goal):
         """The items of a cheapest way from the place at 0 to the goal at 0 (there is one)."""
@@ -129,15 +117,15 @@ class Routes:
         """The items of a cheapest going from the place at 0 to the stand (goal, end), above 0 behind its first deed."""
         if end == 0:
             return []
-        behind = column_far_ahead(self._costs.climbing, only_at(self._many, goal), end - 1)
-        middle = least_at(sums_of_both(self._costs.lifting[place], behind))
+        behind = column_far_ahead(self._costs.climbing, only_at(goal), end - 1)
+        middle = place_of_least(self._costs.lifting[place], behind)
         return as_items(self._up(place, middle, ("any", "empty"))) + self._walk(middle, goal, end - 1, True)
 
     def _through_zero(self, place, start, goal, end):
         """The items of a cheapest going that stands at 0 somewhere (there is one)."""
         fallen, rising = self._costs.plain_row(place, start, 0), self._costs.bare_rise_column(goal, end)
-        first = least_at(sums_of_both(fallen, column_ahead(self._costs.turning, rising)))
-        last = least_at(sums_of_both(self._costs.turning[first], rising))
+        first = place_of_least(fallen, column_ahead(self._costs.turning, rising))
+        last = place_of_least(self._costs.turning[first], rising)
         return self._plain(place, start, first, 0) + self._at_zero(first, last) + self._rise(last, goal, end)
 
     def going(self, place, start, goal, end):
@@ -145,6 +133,6 @@ class Routes:
         price = self._costs.least_price(place, start, goal, end)
         if price is None:
             return None
-        if self._costs.plain_row(place, start, end)[goal] == price:
+        if self._costs.plain_row(place, start, end).get(goal) == price:
             return self._plain(place, start, goal, end)
         return self._through_zero(place, start, goal, end)

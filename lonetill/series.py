@@ -1,7 +1,7 @@
 """Families: tuples (first, step, price, more, many) that tell the worth price + i more at first + i step."""
 
 from lonetill.basics import is_count, is_integer
-from lonetill.rows import combined, common_step, trimmed, united
+from lonetill.rows import combined, trimmed, united
 from lonetill.seeks import last_number, next_number
 
 MOST_STEP = 10
@@ -118,7 +118,7 @@ def are_over(families, others):
 
 def nearest_to_nothing(numbers):
     """The number nearest to 0, of two the lesser; None without numbers."""
-    return min(numbers, key=lambda number: (abs(number), number)) if len(numbers) > 0 else None
+    return min([(abs(number), number) for number in numbers])[1] if len(numbers) > 0 else None
 
 
 def nearest_left(family, families):
@@ -164,35 +164,27 @@ def moved_families(families, number, worth):
     return [(first + number, step, price + worth, more, many) for first, step, price, more, many in families]
 
 
-def is_under_one(lines, number, worth, size):
-    """Whether one of the lines (number, worth, slope), each size numbers its slope more, is no higher there."""
-    return any([first <= number and price + (number - first) // size * slope <= worth for first, price, slope in lines])
+def is_told_by(family, number, lap, price):
+    """Whether a family without end, or a single one, tells all that goes on by this lap from the number, and no more.
+
+    A lap is a tuple (step, more); one of step 0 tells the one number alone.
+    """
+    first, step, worth, more, many = family
+    if number < first or (number - first) % step != 0 or worth + (number - first) // step * more > price:
+        return False
+    if lap[0] == 0:
+        return many is None or number == first
+    return many is None and lap[0] % step == 0 and lap[0] // step * more <= lap[1]
 
 
-def needed(families):
-    """Those of some families without end that tell less than each other one, somewhere along a common step."""
-    size = common_step([family[1] for family in families])
-    told = sorted([(more * size // step, first, price, step, more) for first, step, price, more, _ in families])
-    lines = {rest: [] for rest in range(size)}
+def shortened(families):
+    """Endless and single families, those left out that another one of them tells at no greater price."""
     out = []
-    # The least slopes come first: a line that is under another one's beginning stays so.
-    for slope, first, price, step, more in told:
-        is_needed = False
-        for at in range(size // step):
-            number, worth = first + at * step, price + at * more
-            if not is_under_one(lines[number % size], number, worth, size):
-                lines[number % size].append((number, worth, slope))
-                is_needed = True
-        if is_needed:
+    endless = sorted([(family[0], family[1:4]) for family in families if family[4] is None])
+    for first, (step, price, more) in endless:
+        if not any([is_told_by(known, first, (step, more), price) for known in out]):
             out.append((first, step, price, more, None))
-    return out
-
-
-def singles_beside(families, worths):
-    """A family for each worth, by its position, at which the families tell more, or nothing."""
-    out = []
-    for number, worth in enumerate(worths):
-        known = least_worth(families, number)
-        if worth is not None and (known is None or worth < known):
-            out.append((number, 1, worth, 0, 1))
+    for first, step, price, more, many in families:
+        if many is not None and not any([is_told_by(known, first, (0, 0), price) for known in out]):
+            out.append((first, step, price, more, many))
     return out

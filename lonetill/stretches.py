@@ -45,7 +45,8 @@ def rows_of(stretches):
 
     Those of like periods come together first, so that common periods stay small.
     """
-    return united([row_list(stretch) for stretch in sorted(stretches, key=lambda stretch: stretch[2])])
+    periods = sorted([(stretch[2], position) for position, stretch in enumerate(stretches)])
+    return united([row_list(stretches[position]) for _, position in periods])
 
 
 def stretches_of(rows):

@@ -5,8 +5,8 @@ from lonetill.costs import Costs
 from lonetill.errors import InvalidPrices, TooMany
 from lonetill.families import Least
 from lonetill.laps import Walks
-from lonetill.minplus import column_ahead, columns_of, least_sum, only_at, row_behind, row_far_behind
-from lonetill.series import least_worth, moved_families, needed, singles_beside
+from lonetill.minplus import column_ahead, only_at, row_behind, turned_over
+from lonetill.series import least_worth, shortened
 
 MOST_PRICE = 1000
 MOST_PLACES = 6
@@ -43,108 +43,96 @@ def mirrored_part(families, top, low):
     return out
 
 
-def least_of_families(families):
-    """The Least of the families, without such endless ones and single ones as are needless."""
-    out = needed([family for family in families if family[4] is None])
-    out = out + [family for family in families if family[4] is not None and family[4] > 1]
-    for family in families:
-        known = least_worth(out, family[0]) if family[4] == 1 else 0
-        if known is None or family[2] < known:
-            out.append(family)
-    return Least(out)
+def worths_at(told, number):
+    """The row of the least worths that the families of all places tell at a number."""
+    worths = [(place, least_worth(families, number)) for place, families in enumerate(told)]
+    return {place: worth for place, worth in worths if worth is not None}
 
 
-class FromStand:
-    """The least prices from one stand to all others."""
-
-    def __init__(self, house, prices, place, start):
-        self.costs = Costs(house, prices)
-        self.start = start
-        self.begin = only_at(house.places, place)
-        self.fallen = self.costs.fall_row(place, start)
-
-    def up(self, goal):
-        """Families of the prices of plain goings to numbers from the start on."""
-        row = row_behind(self.begin, self.costs.level(self.start))
-        walks = Walks(self.costs.climbing, row, only_at(self.costs.many, goal))
-        return moved_families(walks.families(), self.start, 0)
-
-    def down(self, goal):
-        """Families of the prices of plain goings to numbers up to the start."""
-        top = self.costs.top()
-        low = min(top, self.start + 1)
-        out = []
-        row = row_far_behind(self.begin, self.costs.dropping, self.start - low + 1)
-        for number in range(low - 1, -1, -1):
-            out.append(least_sum(row, [cost[goal] for cost in self.costs.level(number)]))
-            row = row_behind(row, self.costs.dropping)
-        if self.start < top:
-            return singles_beside([], out[::-1])
-        column = [cost[goal] for cost in self.costs.level(top)]
-        walks = Walks(self.costs.dropping, self.begin, column)
-        return singles_beside([], out[::-1]) + mirrored_part(walks.families(), self.start, top)
-
-    def through_zero(self, goal):
-        """Families of the prices of goings that stand at 0 somewhere."""
-        lifted = row_behind(self.fallen, self.costs.lifting)
-        walks = Walks(self.costs.climbing, lifted, only_at(self.costs.many, goal))
-        return singles_beside([], [self.fallen[goal]]) + moved_families(walks.families(), 1, 0)
-
-    def least(self, goal):
-        """The Least of the prices of all goings to the goal."""
-        return least_of_families(self.up(goal) + self.through_zero(goal) + self.down(goal))
+def told_behind(told, matrix):
+    """For each place the families of what is told of all places, and a step of the matrix behind it."""
+    out = [[] for _ in told]
+    for place, families in enumerate(told):
+        for goal, more in matrix[place].items():
+            out[goal].extend([(first, step, price + more, slope, many) for first, step, price, slope, many in families])
+    return [shortened(families) for families in out]
 
 
-class ToStand:
-    """The least prices from all stands to one."""
+class Slope:
+    """Walks from a place and a number down along a matrix, with a step of the level of their last number behind.
 
-    def __init__(self, house, prices, goal, end):
-        self.costs = Costs(house, prices)
-        self.goal = goal
-        self.end = end
-        self.finish = only_at(house.places, goal)
-        self.rising = self.costs.rise_column(goal, end)
+    From a stand along drops these are all plain goings to lesser numbers; along climbs that are led back,
+    with levels led back, all plain goings that come to a stand from lesser numbers.
+    """
 
-    def down(self, place):
-        """Families of the prices of plain goings from numbers from the end on."""
-        column = [cost[self.goal] for cost in self.costs.level(self.end)]
-        walks = Walks(self.costs.dropping, only_at(self.costs.many, place), column)
-        return moved_families(walks.families(), self.end, 0)
+    def __init__(self, matrix, levels, place, number):
+        self._levels = levels
+        self._number = number
+        # Numbers so near to 0 are looked at one by one: above them all levels are alike.
+        self._near = min(number, max(1, len(levels) - 1))
+        self._told = [[] for _ in matrix]
+        row = only_at(place)
+        if number > self._near:
+            walks = Walks(matrix, None)
+            walks.set_out(0, row)
+            self._told = walks.told()
+            row = worths_at(self._told, number - self._near)
+        self._rows = rows_down(row, matrix, self._near)
 
-    def up(self, place):
-        """Families of the prices of plain goings from numbers up to the end."""
-        top = self.costs.top()
-        low = min(top, self.end + 1)
-        out = []
-        back = columns_of(self.costs.climbing)
-        column = row_far_behind(self.finish, back, self.end - low + 1)
-        for number in range(low - 1, -1, -1):
-            out.append(least_sum(self.costs.level(number)[place], column))
-            column = row_behind(column, back)
-        if self.end < top:
-            return singles_beside([], out[::-1])
-        walks = Walks(self.costs.climbing, self.costs.level(top)[place], self.finish)
-        return singles_beside([], out[::-1]) + mirrored_part(walks.families(), self.end, top)
+    def row_at(self, number):
+        """The row of worths behind the walks down to a number near 0, without the level."""
+        return self._rows[number]
 
-    def through_zero(self, place):
-        """Families of the prices of goings that stand at 0 somewhere."""
-        column = column_ahead(self.costs.level(0), self.rising)
-        walks = Walks(self.costs.dropping, only_at(self.costs.many, place), column)
-        return walks.families()
+    def lower_families(self):
+        """For each place the families of the prices at all numbers below the first one."""
+        levels = self._levels
+        out = [mirrored_part(families, self._number, self._near) for families in told_behind(self._told, levels[-1])]
+        for number in range(self._near):
+            row = row_behind(self._rows[number], levels[min(number, len(levels) - 1)])
+            for place, price in row.items():
+                out[place].append((number, 1, price, 0, 1))
+        return out
 
-    def least(self, place):
-        """The Least of the prices of all goings from the place."""
-        return least_of_families(self.down(place) + self.through_zero(place) + self.up(place))
+
+def rows_down(row, matrix, many):
+    """The rows of worths behind so many steps of the matrix, one less, .., none."""
+    out = [row]
+    for _ in range(many):
+        out.append(row_behind(out[-1], matrix))
+    return out[::-1]
+
+
+def least_of_both_told(rising, falling):
+    """For each place the Least of what two lots of families tell."""
+    out = {}
+    for place, families in enumerate(rising):
+        singles = [family for family in falling[place] if family[4] == 1]
+        others = [family for family in falling[place] if family[4] != 1]
+        out[place] = Least(shortened(families + singles) + others)
+    return out
 
 
 def prices_from(house, prices, place, start):
     """The dict from all places to the Leasts of the least prices from the stand (place, start)."""
-    told = FromStand(house, prices, place, start)
-    return {goal: told.least(goal) for goal in range(house.places)}
+    costs = Costs(house, prices)
+    down = Slope(costs.dropping, costs.levels, place, start)
+    fallen = row_behind(down.row_at(0), costs.turning)
+    walks = Walks(costs.climbing, None)
+    walks.set_out(1, row_behind(fallen, costs.lifting))
+    if start > 0:
+        walks.set_out(start, costs.level(start)[place])
+    at_zero = [[(0, 1, fallen[goal], 0, 1)] if goal in fallen else [] for goal in range(house.places)]
+    rising = [families + first for families, first in zip(walks.told(), at_zero)]
+    return least_of_both_told(rising, down.lower_families())
 
 
 def prices_to(house, prices, goal, end):
     """The dict from all places to the Leasts of the least prices to the stand (goal, end)."""
-    told = ToStand(house, prices, goal, end)
-    return {place: told.least(place) for place in range(house.places)}
-
+    costs = Costs(house, prices)
+    up = Slope(turned_over(costs.climbing), [turned_over(level) for level in costs.levels], goal, end)
+    rising = column_ahead(costs.lifting, up.row_at(1)) if end > 0 else only_at(goal)
+    walks = Walks(turned_over(costs.dropping), None)
+    walks.set_out(0, column_ahead(costs.turning, rising))
+    if end > 0:
+        walks.set_out(end, turned_over(costs.level(end))[goal])
+    return least_of_both_told(walks.told(), up.lower_families())

@@ -6,7 +6,7 @@ import pathlib
 import re
 import unittest
 
-from tests.test_purity import looked_at
+from tests.test_purity import heap_faults, looked_at
 
 FOLDER = pathlib.Path(__file__).resolve().parent.parent / "lonetill"
 FILES = sorted(FOLDER.glob("*.py"))
@@ -176,6 +176,8 @@ class Language(unittest.TestCase):
         self.assertEqual(looked_at([tree for _, _, tree in parsed()]), [])
 
     def test_heaps(self):
+        # L2 Heaps with L28: what comparisons may not change beside an import from heapq.
+        self.assertEqual(heap_faults([tree for _, _, tree in parsed()]), [])
         for name, _, tree in parsed():
             for node in ast.walk(tree):
                 if isinstance(node, ast.Call) and isinstance(node.func, ast.Name) and node.func.id.startswith("heap"):

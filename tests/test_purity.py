@@ -12,6 +12,7 @@ FOLDER = pathlib.Path(__file__).resolve().parent.parent / "lonetill"
 CHANGING = set("append extend insert pop remove clear reverse setdefault update sort add discard".split())
 MAKING = set("list dict set sorted".split())
 HEAPS = set("heappush heappop heapify heapreplace heappushpop".split())
+COMPARING = set("__eq__ __len__ __str__ __repr__ __lt__ __le__ __gt__ __ge__".split())
 IN_PLACE = set("__iadd__ __isub__ __ior__ __iand__ __setitem__".split())
 
 
@@ -51,8 +52,12 @@ def called_from(function, table):
 
 def reached(table):
     """All functions that operators and properties may run."""
-    row = [function for key, functions in table.items() if key[0] == "method"
-           for function in functions if is_root(function)]
+    return all_called([function for key, functions in table.items() if key[0] == "method"
+                       for function in functions if is_root(function)], table)
+
+
+def all_called(row, table):
+    """The functions of the row, and all that they may run."""
     seen = set(map(id, row))
     for function in row:
         for behind in called_from(function, table):
@@ -195,6 +200,37 @@ def looked_at(trees):
     return [(function.name, line) for function in reached(table) for line in faults_in(function, classes)]
 
 
+def uses_heaps(trees):
+    """Whether a file imports from heapq."""
+    return any(isinstance(node, ast.ImportFrom) and node.module == "heapq" for tree in trees for node in ast.walk(tree))
+
+
+def changes_in(function):
+    """The lines of the function that modify a list, a dict, a set or an object, its own ones among them."""
+    out = []
+    for node in ast.walk(function):
+        if isinstance(node, (ast.Assign, ast.Delete)):
+            out += [node.lineno for target in node.targets for part in ast.walk(target)
+                    if isinstance(part, (ast.Subscript, ast.Attribute)) and not isinstance(part.ctx, ast.Load)]
+        if isinstance(node, ast.AugAssign) and not isinstance(node.target, ast.Name):
+            out.append(node.lineno)
+        if isinstance(node, ast.Call) and isinstance(node.func, ast.Attribute) and node.func.attr in CHANGING:
+            out.append(node.lineno)
+        if isinstance(node, ast.Call) and isinstance(node.func, ast.Name) and node.func.id in HEAPS:
+            out.append(node.lineno)
+    return out
+
+
+def heap_faults(trees):
+    """Beside heapq: the lines of __eq__, __len__, __str__, __repr__, orders, and all they call, that modify anything."""
+    if not uses_heaps(trees):
+        return []
+    table = functions_of(trees)
+    names = COMPARING & {name for word, name in table if word == "method"}
+    row = [function for name in sorted(names) for function in table["method", name]]
+    return [(function.name, line) for function in all_called(row, table) for line in changes_in(function)]
+
+
 def attributes_in(trees):
     """The names of all attributes that methods assign to their own objects, or that are assigned elsewhere."""
     return {node.attr for tree in trees for node in ast.walk(tree)
@@ -214,6 +250,19 @@ class Purity(unittest.TestCase):
         trees = [ast.parse(path.read_text()) for path in sorted(FOLDER.glob("*.py"))]
         self.assertEqual(looked_at(trees), [])
         self.assertGreater(len(reached(functions_of(trees))), 30)
+
+    def test_beside_heaps(self):
+        # L2 Heaps: beside an import from heapq comparisons modify nothing at all, lists of their own neither.
+        trees = [ast.parse(path.read_text()) for path in sorted(FOLDER.glob("*.py"))]
+        self.assertEqual(heap_faults(trees), [])
+        head = "from heapq import heappush\n\n\n"
+        frame = "class Box:\n    def __eq__(self, other):\n        return made(self, other)\n\n\ndef made(box, xs):\n"
+        for body in ("    out = []\n    out.append(1)\n", "    out = [1]\n    out[0] = 2\n", "    out = {}\n    del out[1]\n",
+                     "    box.many = 1\n", "    out = []\n    heappush(out, 1)\n", "    out = [1]\n    out[0] += 1\n"):
+            with self.subTest(body):
+                self.assertEqual(len(heap_faults([ast.parse(head), ast.parse(frame + body)])), 1)
+                self.assertEqual(heap_faults([ast.parse(frame + body)]), [])
+        self.assertEqual(heap_faults([ast.parse(head), ast.parse(frame + "    return sorted(xs)\n")]), [])
 
     def test_what_is_seen(self):
         frame = "class Box:\n    def __or__(self, other):\n        return made(self, other)\n\n\ndef made(box, xs):\n"
