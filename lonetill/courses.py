@@ -77,15 +77,15 @@ def done_often(course, times):
     return Course(course.begin, course.finish, course.many * times, course.gain * times, need, course.only, vain)
 
 
-def has_form(many, value, lists):
-    """Whether any value is a going of so many deeds by its form, so many lists within one another."""
+def has_going_form(many, value, lists):
+    """Whether any value is a going of so many deeds (None: of any) by its form, so many lists within one another."""
     if lists == 0 or not is_list(value):
         return False
     for item in value:
         if isinstance(item, tuple):
-            if len(item) != 2 or not is_count(item[1]) or not has_form(many, item[0], lists - 1):
+            if len(item) != 2 or not is_count(item[1]) or not has_going_form(many, item[0], lists - 1):
                 return False
-        elif not is_count(item) or item >= many:
+        elif not is_count(item) or (many is not None and item >= many):
             return False
     return True
 
@@ -107,7 +107,7 @@ def course_within(deeds, going):
 
 def course_or_none(house, value):
     """The course of any value that is a going of the house that hangs together; None for others."""
-    if not has_form(len(house), value, MOST_LISTS):
+    if not has_going_form(len(house), value, MOST_LISTS):
         return None
     return course_within(house.deeds(), value)
 

@@ -5,10 +5,15 @@ from lonetill.masks import ones
 from lonetill.orbits import orbit_at
 from lonetill.searches import deeds_to, plain_ways, searched
 
+# A returned list has fewer elements than twice these.
+MOST_DEEDS = 2000
+
 
 def as_items(deeds):
-    """The deeds as items of a going: none, one, or one lap that is done once."""
-    return deeds if len(deeds) < 2 else [(deeds, 1)]
+    """The deeds as items of a going: none, one, or laps that are done once, none of them too long."""
+    if len(deeds) < 2:
+        return deeds
+    return [(deeds[at:at + MOST_DEEDS], 1) for at in range(0, len(deeds), MOST_DEEDS)]
 
 
 def level_deeds(house, place, goal, need):

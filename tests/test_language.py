@@ -163,13 +163,119 @@ class Language(unittest.TestCase):
 
     def test_statements(self):
         barred = (ast.Global, ast.AsyncFunctionDef, ast.Yield, ast.YieldFrom, ast.GeneratorExp, ast.Set, ast.Starred,
-                  ast.Try, ast.With, ast.Match, ast.Nonlocal, ast.Div, ast.SetComp, ast.NamedExpr, ast.AnnAssign)
+                  ast.Match, ast.Nonlocal, ast.Div, ast.SetComp, ast.NamedExpr, ast.AnnAssign)
         for name, _, tree in parsed():
             for node in ast.walk(tree):
                 self.assertNotIsInstance(node, barred, (name, getattr(node, "lineno", None)))
                 self.assertFalse(isinstance(node, ast.Constant) and isinstance(node.value, float), name)
                 if isinstance(node, ast.Compare) and any(isinstance(op, (ast.Is, ast.IsNot)) for op in node.ops):
                     self.assertIn(node.comparators[0].value, (None, True, False), name)
+
+    def test_own_errors_alone_are_caught(self):
+        errors = {node.name for name, _, tree in parsed() if name == "errors.py" for node in tree.body if isinstance(node, ast.ClassDef)}
+        for name, _, tree in parsed():
+            for node in ast.walk(tree):
+                if isinstance(node, ast.Try):
+                    self.assertEqual(node.finalbody, [], name)
+                    for handler in node.handlers:
+                        kinds = handler.type.elts if isinstance(handler.type, ast.Tuple) else [handler.type]
+                        self.assertTrue({kind.id for kind in kinds} <= errors, (name, node.lineno))
+                if isinstance(node, ast.Raise):
+                    self.assertIsInstance(node.exc, ast.Call, (name, node.lineno))
+                    self.assertIn(node.exc.func.id, errors | {"TypeError"}, (name, node.lineno))
+                    self.assertTrue(node.cause is None or isinstance(node.cause, ast.Name), (name, node.lineno))
+
+    def test_blocks_and_what_is_behind_them(self):
+        # L6 With: a call of an own class; its __exit__ only gives attributes other values.
+        managers = set()
+        for name, _, tree in parsed():
+            for node in ast.walk(tree):
+                if isinstance(node, ast.ClassDef) and any(getattr(part, "name", None) == "__enter__" for part in node.body):
+                    managers.add(node.name)
+                if isinstance(node, ast.FunctionDef) and node.name == "__exit__":
+                    self.assertEqual([arg.arg for arg in node.args.args], ["self", "kind", "value", "trace"])
+                    for part in node.body[ast.get_docstring(node) is not None:]:
+                        self.assertIsInstance(part, ast.Assign)
+                        self.assertIsInstance(part.value, (ast.Attribute, ast.Name))
+        for name, _, tree in parsed():
+            for node in ast.walk(tree):
+                if isinstance(node, ast.With):
+                    for item in node.items:
+                        self.assertIn(item.context_expr.func.id, managers, (name, node.lineno))
+
+    def test_names_of_methods_and_attributes(self):
+        # L18, L5 Properties, L26.
+        methods, marked, stored = {}, {}, {}
+        for _, _, tree in parsed():
+            for box in [node for node in ast.walk(tree) if isinstance(node, ast.ClassDef)]:
+                for part in [node for node in box.body if isinstance(node, ast.FunctionDef)]:
+                    table = marked if part.decorator_list else methods
+                    table.setdefault(part.name, set()).add(box.name)
+                    for node in ast.walk(part):
+                        if isinstance(node, ast.Attribute) and isinstance(node.ctx, ast.Store):
+                            stored.setdefault(node.attr, set()).add(box.name)
+        for name in marked:
+            self.assertNotIn(name, methods)
+            self.assertNotIn(name, stored)
+        for name in methods:
+            self.assertFalse(methods[name] & stored.get(name, set()), name)
+        self.assertFalse({"keys", "items", "values", "format", "decode", "sort", "args"} & (set(methods) | set(marked) | set(stored)))
+
+    def test_an_object_with_items_is_not_iterated_over(self):
+        # L5 Operators: beside __getitem__ stands an __iter__ that raises; L17: some words stand nowhere.
+        for name, text, tree in parsed():
+            for box in [node for node in ast.walk(tree) if isinstance(node, ast.ClassDef)]:
+                parts = {part.name: part for part in box.body if isinstance(part, ast.FunctionDef)}
+                if "__getitem__" in parts:
+                    self.assertIsInstance(parts["__iter__"].body[-1], ast.Raise)
+                    self.assertEqual(parts["__iter__"].body[-1].exc.func.id, "TypeError")
+            self.assertIsNone(re.search(r"\(type\)|Meta|metaclass=", text), name)
+            for node in ast.walk(tree):
+                if isinstance(node, ast.Call) and isinstance(node.func, ast.Name) and node.func.id == "reversed":
+                    self.assertIn(node.args[0].func.id, ("list", "tuple", "sorted", "range"), name)
+                if isinstance(node, ast.keyword) and node.arg == "key":
+                    self.assertNotIsInstance(node.value, ast.Lambda, name)
+
+    def test_tables_hold_plain_values(self):
+        # L3, L15: within lists, dicts and tuples at module level stand no lists and dicts; functions come from above.
+        for name, _, tree in parsed():
+            above = set()
+            for node in tree.body:
+                if isinstance(node, ast.ImportFrom):
+                    above |= {part.name for part in node.names}
+                if isinstance(node, (ast.FunctionDef, ast.ClassDef)):
+                    above.add(node.name)
+                if isinstance(node, ast.Assign):
+                    for part in ast.walk(node.value):
+                        if part is not node.value:
+                            self.assertNotIsInstance(part, (ast.List, ast.Dict, ast.Set, ast.Call), name)
+                        if isinstance(part, ast.Name):
+                            self.assertIn(part.id, above, name)
+                    above.add(node.targets[0].id)
+
+    def test_lambdas_stand_alone(self):
+        for name, _, tree in parsed():
+            rows = [node.lineno for node in ast.walk(tree) if isinstance(node, ast.Lambda)]
+            self.assertEqual(len(rows), len(set(rows)), name)
+
+    def test_interface_is_defined_in_its_files(self):
+        told = {"lids": "lids floors strip", "roofs": "leads_under least_roof roof_ends roof_starts",
+                "under": "roof_of is_under low_going is_roof_closed roof_bars", "tight": "with_room tight room_table",
+                "readers": "Reader as_house stand_behind takes starts_of many_words",
+                "words": "unlike within_reader some_word parting_word is_parting alike_lines is_alike_lines",
+                "products": "both either just_one turned_goods",
+                "smaller": "alike_places least_reader map_to is_map more_line more_from", "texts": "written", "forms": "read",
+                "claims": "words is_claim is_true contrary paper_of is_paper_of", "commands": "is_name is_command is_deed",
+                "desk": "Desk Trial tried", "worths": "least_worths is_worths tells_dear", "families": "Least",
+                "least": "least_price price_from price_to within", "prices": "is_prices price_of cheapest_going"}
+        for file, names in told.items():
+            tree = ast.parse((FOLDER / f"{file}.py").read_text())
+            defined = {node.name for node in tree.body if isinstance(node, (ast.FunctionDef, ast.ClassDef))}
+            self.assertTrue(set(names.split()) <= defined, file)
+        tree = ast.parse((FOLDER / "desk.py").read_text())
+        desk = next(node for node in tree.body if getattr(node, "name", None) == "Desk")
+        self.assertTrue(set("""names labels __len__ __getitem__ __contains__ __call__ claim_of do do_all attempt attach fits
+                            lines copy again""".split()) <= {part.name for part in desk.body if isinstance(part, ast.FunctionDef)})
 
     def test_what_operators_change(self):
         # L5 and L28: operators, properties, __eq__, __len__ and __repr__; tests.test_purity tells how it looks.

@@ -36,7 +36,7 @@ def is_root(function):
     """Whether it is an operator, a property or another method that Python calls by itself."""
     marks = [mark.id for mark in function.decorator_list if isinstance(mark, ast.Name)]
     doubled = function.name.startswith("__") and function.name.endswith("__")
-    return "property" in marks or (doubled and function.name not in IN_PLACE | {"__init__", "__call__"})
+    return "property" in marks or (doubled and function.name not in IN_PLACE | {"__init__", "__call__", "__enter__", "__exit__"})
 
 
 def called_from(function, table):
