@@ -7,7 +7,7 @@ from lonetill.lines import Line
 from lonetill.plains import Plains
 from lonetill.readers import as_house, is_taken, is_word
 from lonetill.rows import part_of, shifted_rows
-from lonetill.seeks import has_number, lies_within
+from lonetill.seeks import lies_within
 from lonetill.twins import Targets, Twins, check_both, check_changes, check_pairs, kind_of
 from lonetill.walks import is_pair
 
