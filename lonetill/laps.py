@@ -3,7 +3,7 @@
 from math import gcd
 
 from lonetill.minplus import behind_one
-from lonetill.series import is_told_by
+from lonetill.series import is_told
 
 NO_LAP = (0, 0)
 
@@ -75,10 +75,7 @@ class Walks:
                 first, worth = self._last[key]
                 if worth + (number - first) // lap[0] * lap[1] <= price:
                     return False
-        for family in self._told[place]:
-            if is_told_by(family, number, lap, price):
-                return False
-        return True
+        return not is_told(self._told[place], number, lap, price)
 
     def _tell(self, number, place, lap, price):
         """Tells the walk, and goes on with it by one step."""

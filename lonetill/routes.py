@@ -96,7 +96,8 @@ class Routes:
         seen = {}
         while goal not in seen:
             price = min(queue)
-            for way in queue.pop(price):
+            row = queue.pop(price)
+            for way in row:
                 if way[-1] not in seen:
                     seen[way[-1]] = way
                     for middle in range(self._many):

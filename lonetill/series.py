@@ -177,14 +177,23 @@ def is_told_by(family, number, lap, price):
     return many is None and lap[0] % step == 0 and lap[0] // step * more <= lap[1]
 
 
+def is_told(families, number, lap, price):
+    """Whether one of the families tells all that goes on by this lap from the number, and no more."""
+    for family in families:
+        if is_told_by(family, number, lap, price):
+            return True
+    return False
+
+
 def shortened(families):
     """Endless and single families, those left out that another one of them tells at no greater price."""
     out = []
-    endless = sorted([(family[0], family[1:4]) for family in families if family[4] is None])
-    for first, (step, price, more) in endless:
-        if not any([is_told_by(known, first, (step, more), price) for known in out]):
+    for first, (step, price, more) in sorted([(family[0], family[1:4]) for family in families if family[4] is None]):
+        if not is_told(out, first, (step, more), price):
             out.append((first, step, price, more, None))
-    for first, step, price, more, many in families:
-        if many is not None and not any([is_told_by(known, first, (0, 0), price) for known in out]):
-            out.append((first, step, price, more, many))
-    return out
+    return with_singles(out, [family for family in families if family[4] is not None])
+
+
+def with_singles(families, singles):
+    """The families, and those of single ones that they do not tell at no greater price."""
+    return families + [family for family in singles if not is_told(families, family[0], (0, 0), family[2])]

@@ -6,7 +6,7 @@ from lonetill.errors import InvalidPrices, TooMany
 from lonetill.families import Least
 from lonetill.laps import Walks
 from lonetill.minplus import column_ahead, only_at, row_behind, turned_over
-from lonetill.series import least_worth, shortened
+from lonetill.series import least_worth, shortened, with_singles
 
 MOST_PRICE = 1000
 MOST_PLACES = 6
@@ -108,7 +108,7 @@ def least_of_both_told(rising, falling):
     for place, families in enumerate(rising):
         singles = [family for family in falling[place] if family[4] == 1]
         others = [family for family in falling[place] if family[4] != 1]
-        out[place] = Least(shortened(families + singles) + others)
+        out[place] = Least(with_singles(families, singles) + others)
     return out
 
 

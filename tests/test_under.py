@@ -7,6 +7,7 @@ from lonetill.errors import InvalidGoing, InvalidMany, InvalidPlace
 from lonetill.goings import behind, is_going
 from lonetill.houses import House
 from lonetill.lines import Line
+from lonetill.plots import as_items
 from lonetill.roofs import leads_under, least_roof, roof_ends
 from lonetill.under import is_roof_closed, is_under, low_going, roof_bars, roof_of
 from tests.odd import ANY, NO_COUNTS
@@ -136,6 +137,12 @@ class LowGoings(unittest.TestCase):
             for end in (0, 1, 2, 5, FAR):
                 for goal in range(4):
                     self.check(house, 0, start, goal, end)
+
+    def test_long_rows_of_deeds_are_parted(self):
+        self.assertEqual((as_items([]), as_items([7]), as_items([7, 8])), ([], [7], [([7, 8], 1)]))
+        items = as_items(list(range(9000)))
+        self.assertEqual([deed for deeds, times in items for deed in deeds * times], list(range(9000)))
+        self.assertLessEqual(longest(items), 4000)
 
     def test_results_are_new(self):
         told = low_going(HOUSE, 0, 5, 2, 5)
