@@ -88,7 +88,7 @@ class Slope:
         levels = self._levels
         out = [mirrored_part(families, self._number, self._near) for families in told_behind(self._told, levels[-1])]
         for number in range(self._near):
-            row = row_behind(self._rows[number], levels[min(number, len(levels) - 1)])
+            row = row_behind(self._rows[number], levels[number])
             for place, price in row.items():
                 out[place].append((number, 1, price, 0, 1))
         return out

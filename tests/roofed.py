@@ -27,6 +27,18 @@ def rings(ups, downs, extra=()):
     return House(1 + max(ups + downs), list(dict.fromkeys(deeds + list(extra))))
 
 
+def dice_rings(dice, places):
+    """A house with a ring up and a ring down through places by dice, and some further deeds."""
+    deeds = []
+    for change in (1, -1):
+        ring = dice.sample(range(places), dice.randint(1, places))
+        deeds += [(ring[k], change, ring[(k + 1) % len(ring)], "any") for k in range(len(ring))]
+    for _ in range(dice.randint(0, 4)):
+        when = dice.choice(["any", "empty"])
+        deeds.append((dice.randrange(places), dice.choice([0, 1] if when == "empty" else [-1, 0, 1]), dice.randrange(places), when))
+    return House(places, list(dict.fromkeys(deeds)))
+
+
 # So far up a going must climb for what a few deeds could not do.
 CLIMBERS = [rings([0, 1], [0, 1, 2]), rings([0, 1, 2], [0, 3, 4, 5]), rings([0, 1, 2, 3], [0, 4, 5], [(5, 0, 1, "empty"), (2, 1, 4, "empty")]),
             rings([0, 1, 2, 3, 4], [4, 5, 6, 7, 8, 9, 10], [(7, 1, 0, "empty")]),

@@ -61,7 +61,7 @@ class Commands(unittest.TestCase):
                      "gain a 0 1 - 7", "gain a 0 -1 7", "state 9", "state", "states a", "names a", "undo 1", "redo redo", "leads a 0 0 0", "leads a 0 0 0 -1", "most a 0 0", "ask a",
                      "ask a leads 16 n 0 m", "ask a leads 0 n 0", "ask a leads 0 x 0 m", "ask a in n 5 2 1 0", "ask a in n 0 5 0 0", "ask a in n 0 5 2521 0", "ask a in n 0 5 2 2",
                      "ask a in n 0 5 4 1 2", "ask a in n 0 5 4", "ask a in x 0 5 4 1", "ask a in n -- 5 4 1", "ask a below n m -0", "ask a below n m", "ask a some below n m 1",
-                     "ask a some x below n m 1", "ask a not", "ask a and below n m 1", "ask a and below n m 1 below n m 1 below n m 1", "ask a below n m 1 below n m 1",
+                     "ask a some x below n m 1", "ask a not", "ask a some", "ask a all n", "ask a not all", "ask a in", "ask a in n", "ask a leads", "ask a below", "ask a and", "ask a or not", "ask a and below n m 1", "ask a and below n m 1 below n m 1 below n m 1", "ask a below n m 1 below n m 1",
                      "ask a not not not not not not not below n m 1", "ask a some n some n some n some n some n some n below n m 1",
                      "ask a some n some n some n some n some n not not below n m 1", "ask a xor below n m 1 below n m 1", "ask a house b 2"):
             self.assertEqual((is_command(line), is_deed(line)), (False, False), line)

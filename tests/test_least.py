@@ -11,6 +11,7 @@ from lonetill.houses import House
 from lonetill.least import least_price, price_from, price_to, within
 from tests.odd import NO_COUNTS
 from tests.priced import priced_house, walked_prices
+from tests.roofed import dice_rings
 from tests.test_prices import HOUSE, NO_PRICES, PRICES
 
 FAR = 10 ** 29
@@ -31,6 +32,35 @@ class Prices(unittest.TestCase):
                 for end in (0, 1, start, start + 7):
                     self.assertEqual(least_price(house, prices, place, start, goal, end), told.get((goal, end)))
             self.assertEqual((found[place].at(start), least_price(house, prices, place, start, place, start)), (0, 0))
+
+    def test_laps_of_unlike_lengths(self):
+        # A dear lap of two steps first, then a cheap one of three, five or seven numbers: of the first, few are needed.
+        for size in (3, 4, 5):
+            deeds = [(0, 1, 1, "any"), (1, 1, 0, "any"), (0, 0, 2, "any")]
+            deeds += [(2 + k, 1, 2 + (k + 1) % (size - 1), "any") for k in range(size - 1)] + [(2, 1, 2, "any")][:size - 4]
+            house = House(2 + size - 1, deeds)
+            for prices in ([5, 5, 0] + [1] * (len(deeds) - 3), [0, 1, 0] + [7] * (len(deeds) - 3), [3, 4, 9] + [2] * (len(deeds) - 4) + [30]):
+                self.check_walked(house, prices, 0, 3, 60)
+                self.check_walked(House(house.places, [(place, -change, goal, when) for place, change, goal, when in deeds]), prices, 0, 41, 60)
+
+    def test_rings_by_dice(self):
+        for seed in range(70):
+            dice = random.Random(seed)
+            house = dice_rings(dice, dice.randint(2, 6))
+            prices = [dice.choice([0, 1, 2, dice.randint(0, 30), 1000]) for _ in range(len(house))]
+            self.check_walked(house, prices, dice.randrange(house.places), dice.choice([0, 1, 4, 30]), 70)
+
+    def check_walked(self, house, prices, place, start, top):
+        """Prices from a stand, and to it, against goings walked up to more than the top."""
+        told = walked_prices(house, prices, (place, start), top + house.places ** 2)
+        for goal, least in price_from(house, prices, place, start).items():
+            self.assertEqual([least.at(end) for end in range(top)], [told.get((goal, end)) for end in range(top)])
+            for end in (0, 1, 7, start, top - 1):
+                self.assertEqual(least_price(house, prices, place, start, goal, end), told.get((goal, end)))
+        back = House(house.places, [(goal, -change, at, when) for at, change, goal, when in house.deeds() if when == "any"])
+        if house.is_plain:
+            for at, least in price_to(back, prices, place, start).items():
+                self.assertEqual([least.at(number) for number in range(top)], [told.get((at, number)) for number in range(top)])
 
     def test_to_a_stand(self):
         for seed in range(50):

@@ -10,6 +10,7 @@ from lonetill.least import least_price
 from lonetill.prices import cheapest_going, is_prices, price_of
 from tests.odd import ANY, NO_COUNTS
 from tests.priced import priced_house, walked_prices
+from tests.roofed import dice_rings
 from tests.test_ways import lists_within, longest
 
 FAR = 10 ** 29
@@ -82,6 +83,19 @@ class Prices(unittest.TestCase):
             for start in (2, FAR, FAR + 3):
                 for end in (0, 5, FAR, FAR - 1, FAR + 8):
                     self.check(house, prices, place, start, goal, end, least_price(house, prices, place, start, goal, end))
+
+    def test_rings_by_dice(self):
+        for seed in range(70):
+            dice = random.Random(seed)
+            house = dice_rings(dice, dice.randint(2, 6))
+            prices = [dice.choice([0, 1, 2, dice.randint(0, 30), 1000]) for _ in range(len(house))]
+            place, start = dice.randrange(house.places), dice.choice([0, 1, 4, 20])
+            told = walked_prices(house, prices, (place, start), 130 + house.places ** 2)
+            for goal in range(house.places):
+                for end in (0, 1, 2, start, start + 9, 120):
+                    self.check(house, prices, place, start, goal, end, told.get((goal, end)))
+                for end in (0, 3, FAR - 1, FAR + 7):
+                    self.check(house, prices, place, FAR, goal, end, least_price(house, prices, place, FAR, goal, end))
 
     def test_prices_of_nothing(self):
         # Deeds that cost nothing go round at 0: the told way must not.

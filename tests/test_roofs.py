@@ -10,7 +10,7 @@ from lonetill.houses import House
 from lonetill.lines import Line
 from lonetill.roofs import least_roof, leads_under, roof_ends, roof_starts
 from tests.odd import NO_COUNTS
-from tests.roofed import CLIMBERS, FAR, come_to_under, walked_roof
+from tests.roofed import CLIMBERS, FAR, come_to_under, dice_rings, walked_roof
 from tests.walked import numbers_of, random_house
 
 HOUSE = House(3, [(0, 1, 1, "any"), (1, 0, 1, "any"), (1, -1, 2, "any"), (2, 1, 2, "empty")])
@@ -58,6 +58,21 @@ class Roofs(unittest.TestCase):
                             if roof > 0:
                                 self.assertIs(leads_under(house, place, start, goal, end, roof - 1), False)
         self.assertGreater(max(spares), 8)
+
+    def test_rings_by_dice(self):
+        for seed in range(200):
+            dice = random.Random(seed)
+            house = dice_rings(dice, dice.randint(2, 9))
+            place, start = dice.randrange(house.places), dice.choice([0, 1, 2, 5, 17])
+            roof = start + dice.choice([0, 1, 2, 7, 30])
+            found = come_to_under(house, (place, start), roof)
+            ahead, back = roof_ends(house, place, start, roof), roof_starts(house, place, start, roof)
+            for goal in range(house.places):
+                self.assertEqual(ahead[goal], Line.of([number for at, number in found if at == goal]))
+                number = dice.randint(0, roof)
+                self.assertIs(back[goal].has(number), (place, start) in come_to_under(house, (goal, number), roof))
+                least = least_roof(house, place, start, goal, number)
+                self.assertIs(least is not None and least <= roof, (goal, number) in found)
 
     def test_ends_of_far_climbs(self):
         for house in CLIMBERS[:4]:

@@ -9,7 +9,7 @@ from lonetill.houses import House
 from lonetill.roofs import least_roof
 from lonetill.tight import room_table, tight, with_room
 from tests.odd import NO_COUNTS
-from tests.roofed import CLIMBERS, FAR, come_to_under
+from tests.roofed import CLIMBERS, FAR, come_to_under, dice_rings
 from tests.walked import random_house
 
 HOUSE = House(3, [(0, 1, 1, "any"), (1, 0, 1, "any"), (1, -1, 2, "any"), (2, 1, 2, "empty")])
@@ -72,6 +72,17 @@ class Tight(unittest.TestCase):
             grid = with_room(house, place, goal, many)
             for start in range(7):
                 for end in range(7):
+                    roof = max(start, end) + many
+                    self.assertIs(grid.has(start, end), (goal, end) in come_to_under(house, (place, start), roof))
+
+    def test_rings_by_dice(self):
+        for seed in range(40):
+            dice = random.Random(seed)
+            house = dice_rings(dice, dice.randint(2, 4))
+            place, goal, many = dice.randrange(house.places), dice.randrange(house.places), dice.randint(0, 6)
+            grid = with_room(house, place, goal, many)
+            for start in range(0, 12, 2):
+                for end in range(0, 12, 3):
                     roof = max(start, end) + many
                     self.assertIs(grid.has(start, end), (goal, end) in come_to_under(house, (place, start), roof))
 

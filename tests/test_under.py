@@ -11,7 +11,7 @@ from lonetill.plots import as_items
 from lonetill.roofs import leads_under, least_roof, roof_ends
 from lonetill.under import is_roof_closed, is_under, low_going, roof_bars, roof_of
 from tests.odd import ANY, NO_COUNTS
-from tests.roofed import CLIMBERS, FAR, come_to_under
+from tests.roofed import CLIMBERS, FAR, come_to_under, dice_rings
 from tests.test_ways import lists_within, longest
 from tests.walked import random_house
 
@@ -130,6 +130,32 @@ class LowGoings(unittest.TestCase):
                     for goal in range(0, house.places, 3):
                         many += self.check(house, 0, start, goal, end)
         self.assertGreater(many, 100)
+
+    def test_rings_by_dice(self):
+        many = 0
+        for seed in range(250):
+            dice = random.Random(seed)
+            house = dice_rings(dice, dice.randint(2, 8))
+            for _ in range(6):
+                start, end = dice.choice([0, 0, 1, 2, 9, 30]), dice.choice([0, 0, 1, 3, 12, 30])
+                many += self.check(house, dice.randrange(house.places), start, dice.randrange(house.places), end)
+        self.assertGreater(many, 400)
+
+    def test_hops_at_zero(self):
+        # From place to place at 0 by "empty" deeds up with a fall behind them, and such that stay.
+        house = House(5, [(0, 1, 1, "empty"), (1, -1, 2, "any"), (2, 0, 3, "empty"), (3, 1, 3, "empty"), (3, 1, 4, "any"), (4, -1, 4, "any"), (1, 1, 1, "any"), (0, -1, 0, "any")])
+        for start in (0, 1, 5):
+            for goal in range(5):
+                for end in (0, 1, 2, 6):
+                    self.check(house, 0, start, goal, end)
+        self.assertEqual(low_going(house, 0, 0, 2, 0), [([0, 1], 1)])
+        self.assertEqual([roof_of(house, 0, 4, low_going(house, 0, 4, goal, 0)) for goal in (0, 2, 3, 4)], [4] * 4)
+        self.assertEqual([least_roof(house, 0, 0, goal, 0) for goal in range(5)], [0, None, 1, 1, 1])
+
+    def test_under_the_roof_0(self):
+        house = House(3, [(0, 1, 1, "empty"), (1, -1, 2, "any"), (0, 0, 1, "empty"), (1, 0, 2, "any")])
+        self.assertEqual(roof_of(house, 0, 0, low_going(house, 0, 0, 2, 0)), 0)
+        self.assertEqual(least_roof(house, 0, 0, 2, 1), 1)
 
     def test_through_zero(self):
         house = House(4, [(0, -1, 1, "any"), (1, -1, 1, "any"), (1, 1, 2, "empty"), (2, 1, 2, "any"), (2, -1, 3, "any"), (3, 0, 0, "empty"), (0, 1, 0, "any")])
